@@ -35,6 +35,9 @@ const (
 // crcPolynomial is the remainder's divisor with its bits in turned order, as the shift to the right needs it.
 const crcPolynomial = 0xEDB88320
 
+// mayPass tells whether a wait from now on is valid. Not by the sum: that of now and a great wait has no room in a number.
+func mayPass(now, wait int64) bool { return wait >= 0 && wait <= MaxTime-now }
+
 // Checksum is the sum of numbers of two bytes, see chapter 2.
 func Checksum(b []byte) int64 {
 	var sum uint64

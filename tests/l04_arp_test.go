@@ -232,31 +232,18 @@ func sameArpOut(a, b impl.ArpOut) bool {
 
 func sameArpOuts(a, b []impl.ArpOut) bool { return slices.EqualFunc(a, b, sameArpOut) }
 
+func runOwnCache(ops []impl.ArpOp) ([]impl.ArpOut, int64) { return impl.RunArp(ownCache(), ops) }
+
 func runCache(t *testing.T, ops ...impl.ArpOp) []impl.ArpOut {
 	t.Helper()
-	outs, code := impl.RunArp(ownCache(), ops)
-	if code != impl.OK || len(outs) != len(ops) {
-		t.Fatalf("RunArp of %d operations: %d answers, %d", len(ops), len(outs), code)
-	}
-	return outs
+	return runAll(t, runOwnCache, ops)
 }
 
-type arpStep struct {
-	op   impl.ArpOp
-	want impl.ArpOut
-}
+type arpStep = step[impl.ArpOp, impl.ArpOut]
 
 func checkSteps(t *testing.T, steps ...arpStep) {
 	t.Helper()
-	var ops []impl.ArpOp
-	for _, step := range steps {
-		ops = append(ops, step.op)
-	}
-	for i, out := range runCache(t, ops...) {
-		if !sameArpOut(out, steps[i].want) {
-			t.Errorf("operation %d, %+v: %+v, not %+v", i, ops[i], out, steps[i].want)
-		}
-	}
+	checkRunOf(t, runOwnCache, sameArpOut, steps)
 }
 
 func TestArpPacketsWaitAndAreReleased(t *testing.T) {
