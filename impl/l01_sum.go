@@ -38,6 +38,15 @@ const crcPolynomial = 0xEDB88320
 // mayPass tells whether a wait from now on is valid. Not by the sum: that of now and a great wait has no room in a number.
 func mayPass(now, wait int64) bool { return wait >= 0 && wait <= MaxTime-now }
 
+// outsOf is what a run tells: one entry for each of its operations, in order.
+func outsOf[Op, Out any](ops []Op, do func(Op) Out) []Out {
+	outs := make([]Out, 0, len(ops))
+	for _, op := range ops {
+		outs = append(outs, do(op))
+	}
+	return outs
+}
+
 // Checksum is the sum of numbers of two bytes, see chapter 2.
 func Checksum(b []byte) int64 {
 	var sum uint64

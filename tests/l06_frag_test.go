@@ -1284,23 +1284,30 @@ func cloneReasmOuts(outs []impl.ReasmOut) []impl.ReasmOut {
 	return list
 }
 
-// roomyOps have their lists in memory with room behind them.
-func roomyOps(ops []impl.ReasmOp) []impl.ReasmOp {
-	room := slices.Clone(ops)
-	for i := range room {
-		p := &room[i].Packet
-		p.Options = append(append(make([]byte, 0, len(p.Options)+8), p.Options...), 1, 2, 3, 4)[:len(p.Options)]
-		p.Payload = append(append(make([]byte, 0, len(p.Payload)+8), p.Payload...), 5, 6, 7, 8)[:len(p.Payload)]
-	}
-	return room
+// roomyPacket has its lists in memory of its own, with room behind them.
+func roomyPacket(p impl.Packet) impl.Packet {
+	p.Options = append(append(make([]byte, 0, len(p.Options)+8), p.Options...), 1, 2, 3, 4)[:len(p.Options)]
+	p.Payload = append(append(make([]byte, 0, len(p.Payload)+8), p.Payload...), 5, 6, 7, 8)[:len(p.Payload)]
+	return p
 }
 
 func withRoom(b []byte) []byte { return b[:cap(b)] }
 
+func samePacketWithRoom(a, b impl.Packet) bool {
+	return samePacket(a, b) && bytes.Equal(withRoom(a.Options), withRoom(b.Options)) && bytes.Equal(withRoom(a.Payload), withRoom(b.Payload))
+}
+
+func roomyOps(ops []impl.ReasmOp) []impl.ReasmOp {
+	room := slices.Clone(ops)
+	for i := range room {
+		room[i].Packet = roomyPacket(room[i].Packet)
+	}
+	return room
+}
+
 func sameWithRoom(a, b []impl.ReasmOp) bool {
 	return slices.EqualFunc(a, b, func(x, y impl.ReasmOp) bool {
-		return x.Kind == y.Kind && x.Wait == y.Wait && samePacket(x.Packet, y.Packet) &&
-			bytes.Equal(withRoom(x.Packet.Options), withRoom(y.Packet.Options)) && bytes.Equal(withRoom(x.Packet.Payload), withRoom(y.Packet.Payload))
+		return x.Kind == y.Kind && x.Wait == y.Wait && samePacketWithRoom(x.Packet, y.Packet)
 	})
 }
 

@@ -80,33 +80,11 @@ func modelRoute(line string) (impl.Route, bool) {
 	return r, modelValidRoute(r)
 }
 
-func modelReadRoutes(text string) ([]impl.Route, int64, int64) {
-	if len(text) > 20000 {
-		return nil, impl.ErrSize, 0
-	}
-	var list []impl.Route
-	for i, line := range strings.Split(text, "\n") {
-		line = strings.SplitN(line, "#", 2)[0]
-		if strings.Trim(line, " \t") == "" {
-			continue
-		}
-		r, ok := modelRoute(line)
-		if !ok {
-			return nil, impl.ErrSyntax, int64(i + 1)
-		}
-		if len(list) == 64 {
-			return nil, impl.ErrCount, int64(i + 1)
-		}
-		list = append(list, r)
-	}
-	return list, impl.OK, 0
-}
-
 func plainAddr(addr int64) string {
 	return fmt.Sprintf("%d.%d.%d.%d", addr>>24, addr>>16&255, addr>>8&255, addr&255)
 }
 
-// plainRoute is a valid route's line, with its newline, written apart from the program.
+// plainRoute is a valid route's line, written apart from the program.
 func plainRoute(r impl.Route) string {
 	line := fmt.Sprintf("%s/%d", plainAddr(r.Prefix.Addr), r.Prefix.Bits)
 	if r.Via != 0 {
@@ -116,15 +94,20 @@ func plainRoute(r impl.Route) string {
 	if r.Metric != 0 {
 		line += fmt.Sprintf(" metric %d", r.Metric)
 	}
-	return line + "\n"
+	return line
 }
 
-func plainRoutes(list []impl.Route) string {
-	var text strings.Builder
-	for _, r := range list {
-		text.WriteString(plainRoute(r))
+// routeLines are texts of routes.
+func routeLines() lineKind[impl.Route] {
+	return lineKind[impl.Route]{
+		most: 64, read: impl.ReadRoutes, show: impl.ShowRoutes, model: modelRoute, plain: plainRoute,
+		good: edgeRoutes(), ill: illRoutes(), illLines: illLines(), random: randomRoute,
+		longest: impl.Route{Prefix: impl.Prefix{Addr: lastAddr, Bits: 32}, Via: 224<<24 - 1, Link: 7, Metric: mostMetric},
+		pieces: []string{
+			"10.0.0.0/8", "0.0.0.0/0", "1.2.3.4/32", "1.2.3.4/31", "via", "10.0.0.1", "0.0.0.0", "224.0.0.1", "link", "metric", "0", "1", "7", "8", "01", "1000000", "1000001",
+			" ", " ", "\t", "\n", "\n", "#", "\r", "\x00", "\u00a0", "Link", "\xff",
+		},
 	}
-	return text.String()
 }
 
 func checkFind(t *testing.T, list []impl.Route, dst int64, want impl.Route, found bool) {
@@ -141,37 +124,6 @@ func checkAsModel(t *testing.T, list []impl.Route, dst int64) {
 	t.Helper()
 	want, found := modelFindRoute(list, dst)
 	checkFind(t, list, dst, want, found)
-}
-
-// checkRead asks for the routes with OK, and for nothing but the code and the line else.
-func checkRead(t *testing.T, text string, want []impl.Route, code, line int64) {
-	t.Helper()
-	got, gotCode, gotLine := impl.ReadRoutes(text)
-	model, modelCode, modelLine := modelReadRoutes(text)
-	if !slices.Equal(got, want) || gotCode != code || gotLine != line {
-		t.Errorf("ReadRoutes(%.200q): %s, %d, %d, not %s, %d, %d", text, shortly(got), gotCode, gotLine, shortly(want), code, line)
-	}
-	if !slices.Equal(got, model) || gotCode != modelCode || gotLine != modelLine {
-		t.Errorf("ReadRoutes(%.200q): %s, %d, %d; the model: %s, %d, %d", text, shortly(got), gotCode, gotLine, shortly(model), modelCode, modelLine)
-	}
-}
-
-func checkReads(t *testing.T, text string, want ...impl.Route) {
-	t.Helper()
-	checkRead(t, text, want, impl.OK, 0)
-}
-
-func checkReadAsModel(t *testing.T, text string) {
-	t.Helper()
-	want, code, line := modelReadRoutes(text)
-	checkRead(t, text, want, code, line)
-}
-
-func checkShow(t *testing.T, list []impl.Route, want string, code int64) {
-	t.Helper()
-	if got, gotCode := impl.ShowRoutes(list); got != want || gotCode != code {
-		t.Errorf("ShowRoutes(%s): %.200q, %d, not %.200q, %d", shortly(list), got, gotCode, want, code)
-	}
 }
 
 // routeTo is a route over the link 0, straight to its addresses.
@@ -434,9 +386,9 @@ func TestFindRouteAsksTheNumbers(t *testing.T) {
 		}
 		checkFind(t, []impl.Route{c.r}, ownAddr, want, c.valid)
 		if c.valid {
-			checkShow(t, []impl.Route{c.r}, plainRoute(c.r), impl.OK)
+			routeLines().checkShow(t, []impl.Route{c.r}, plainRoute(c.r)+"\n", impl.OK)
 		} else {
-			checkShow(t, []impl.Route{c.r}, "", impl.ErrForm)
+			routeLines().checkShow(t, []impl.Route{c.r}, "", impl.ErrForm)
 		}
 	}
 }
@@ -507,125 +459,9 @@ func TestRoutesOfAText(t *testing.T) {
 		{Via: 10<<24 + 1, Link: 7, Metric: 1000000},
 		{Prefix: impl.Prefix{Addr: 0x01020304, Bits: 32}, Link: 2},
 	}
-	checkReads(t, text, list...)
-	checkShow(t, list, "10.0.0.0/8 link 0\n192.168.1.0/24 via 10.0.0.7 link 1\n"+
+	routeLines().checkReads(t, text, list...)
+	routeLines().checkShow(t, list, "10.0.0.0/8 link 0\n192.168.1.0/24 via 10.0.0.7 link 1\n"+
 		"0.0.0.0/0 via 10.0.0.1 link 7 metric 1000000\n1.2.3.4/32 link 2\n", impl.OK)
-}
-
-func TestTextsWithoutRoutes(t *testing.T) {
-	for _, text := range []string{
-		"", "\n", "\n\n\n", " ", "\t", " \t \n\t \t", "#", "##", "# 10.0.0.0/8 link 0", "#\n#\n", " #\n\t#x\n", "#\x00\xff\r\v\f", "\n#",
-		"# 10.0.0.0/8 link 0\n#\t10.0.0.0/8 link 8", strings.Repeat("\n", impl.MaxText), strings.Repeat(" ", impl.MaxText),
-		strings.Repeat("#", impl.MaxText), strings.Repeat("\t\n", impl.MaxText/2), "#" + strings.Repeat("\xf0", impl.MaxText-1),
-	} {
-		checkReads(t, text)
-	}
-	checkShow(t, nil, "", impl.OK)
-	checkShow(t, []impl.Route{}, "", impl.OK)
-}
-
-// A text may have MaxText bytes; of more nothing is read, neither an ill line nor too many routes.
-func TestReadRoutesBoundsTheText(t *testing.T) {
-	r := withMetric(routeTo(10<<24, 8), 1, 2)
-	line := plainRoute(r)
-	for _, filling := range []string{"#", " ", "\t", "\n"} {
-		for _, n := range []int{impl.MaxText - 1, impl.MaxText, impl.MaxText + 1, impl.MaxText + 2, 2 * impl.MaxText, 1 << 20} {
-			fill := strings.Repeat(filling, n-len(line))
-			texts := []string{line + fill}
-			if filling != "#" {
-				texts = append(texts, fill+line, fill+line[:len(line)-1]+filling)
-			}
-			for _, text := range texts {
-				if n <= impl.MaxText {
-					checkReads(t, text, r)
-				} else {
-					checkRead(t, text, nil, impl.ErrSize, 0)
-				}
-			}
-		}
-	}
-	for _, piece := range []string{"x", "x\n", "\x00", "10.0.0.0/8 link 8\n", line, line + "x\n"} {
-		times := impl.MaxText/len(piece) + 1
-		checkRead(t, strings.Repeat(piece, times)[:impl.MaxText+1], nil, impl.ErrSize, 0)
-		checkReadAsModel(t, strings.Repeat(piece, times)[:impl.MaxText])
-	}
-}
-
-// The last line may lack its newline; an empty line behind it is none.
-func TestLastLines(t *testing.T) {
-	a, b := routeTo(10<<24, 8), withMetric(routeTo(11<<24, 8), 1, 2)
-	first, second := strings.TrimSuffix(plainRoute(a), "\n"), strings.TrimSuffix(plainRoute(b), "\n")
-	for _, end := range []string{"", "\n", "\n\n", " ", "\t\n", "#", "#\n", " # x", " # x\n \n#"} {
-		checkReads(t, first+end, a)
-		checkReads(t, first+"\n"+second+end, a, b)
-		checkReads(t, "\n\n"+first+"\n\n"+second+end, a, b)
-		checkRead(t, first+"\n"+second+" x"+end, nil, impl.ErrSyntax, 2)
-	}
-	checkRead(t, first+" "+second, nil, impl.ErrSyntax, 1)
-	checkRead(t, first+second, nil, impl.ErrSyntax, 1)
-}
-
-func TestBlanksBetweenWords(t *testing.T) {
-	r := impl.Route{Prefix: impl.Prefix{Addr: 10 << 24, Bits: 8}, Via: gateway, Link: 3, Metric: 40}
-	words := strings.Fields(plainRoute(r))
-	blanks := []string{" ", "\t", "  ", "\t\t", " \t", "\t ", "   \t\t\t   ", strings.Repeat(" ", 1000), strings.Repeat("\t", 1000)}
-	for _, blank := range blanks {
-		line := strings.Join(words, blank)
-		for _, around := range append(blanks, "") {
-			checkReads(t, around+line, r)
-			checkReads(t, line+around, r)
-			checkReads(t, around+line+around+"\n", r)
-			checkReads(t, line+around+"# "+line, r)
-			checkReads(t, line+around+"#"+line+around+"#\n", r)
-		}
-	}
-	// Without a blank between them two words are one, which is another.
-	for i := 1; i < len(words); i++ {
-		line := strings.Join(words[:i], " ") + strings.Join(words[i:], " ")
-		checkRead(t, line, nil, impl.ErrSyntax, 1)
-	}
-}
-
-// Only spaces and tabs part words, and only a newline ends a line; other white space belongs to a word.
-func TestOtherWhiteSpaceIsNone(t *testing.T) {
-	words := []string{"10.0.0.0/8", "via", "10.0.0.7", "link", "1", "metric", "2"}
-	r, _, _ := impl.ReadRoutes(strings.Join(words, " "))
-	for _, white := range []string{"\r", "\v", "\f", "\x00", "\x1c", "\x85", "\xa0", "\u0085", "\u00a0", "\u1680", "\u2003", "\u2028", "\u2029", "\u202f", "\u3000", "\ufeff", "\u200b"} {
-		checkRead(t, white, nil, impl.ErrSyntax, 1)
-		checkRead(t, " \n \t"+white+" \n", nil, impl.ErrSyntax, 2)
-		for i := range len(words) {
-			joined := strings.Join(words[:i], " ") + white + strings.Join(words[i:], " ")
-			checkRead(t, joined, nil, impl.ErrSyntax, 1)
-			checkRead(t, strings.Join(words[:i], " ")+" "+white+" "+strings.Join(words[i:], " "), nil, impl.ErrSyntax, 1)
-		}
-		checkRead(t, strings.Join(words, " ")+white, nil, impl.ErrSyntax, 1)
-		checkRead(t, strings.Join(words, " ")+white+"\n"+strings.Join(words, " "), nil, impl.ErrSyntax, 1)
-		checkRead(t, strings.Join(words, " ")+" "+white+"\n", nil, impl.ErrSyntax, 1)
-		checkReads(t, strings.Join(words, " ")+"#"+white+"\n#"+white, r...)
-	}
-}
-
-// A remark may touch a word, but what is ahead of it must be a whole line.
-func TestRemarks(t *testing.T) {
-	r := impl.Route{Prefix: impl.Prefix{Addr: 10 << 24, Bits: 8}, Via: gateway, Link: 1, Metric: 23}
-	line := strings.TrimSuffix(plainRoute(r), "\n")
-	for _, remark := range []string{"#", "#x", "# x", "##", "#\t#", "#metric 7", "#4", "# \xff\x00", "#\r"} {
-		checkReads(t, line+remark, r)
-		checkReads(t, line+remark+"\n"+line+" "+remark, r, r)
-		checkReads(t, remark+"\n"+line, r)
-		for i := range len(line) {
-			checkReadAsModel(t, line[:i]+remark+line[i:])
-			checkReadAsModel(t, "\n"+line[:i]+remark+"\n"+line)
-		}
-	}
-	short := withMetric(r, 1, 0)
-	checkReads(t, "10.0.0.0/8 via "+plainAddr(gateway)+" link 1#metric 23", short)
-	checkReads(t, "10.0.0.0/8 via "+plainAddr(gateway)+" link 1# 2 metric 23", short)
-	checkReads(t, "10.0.0.0/8 via "+plainAddr(gateway)+" link 1 metric 2#3", withMetric(r, 1, 2))
-	checkRead(t, "10.0.0.0/8 via "+plainAddr(gateway)+" #link 1", nil, impl.ErrSyntax, 1)
-	checkRead(t, "10.0.0.0/8# link 1", nil, impl.ErrSyntax, 1)
-	checkRead(t, "10.0.0.0/8 link #1\n", nil, impl.ErrSyntax, 1)
-	checkRead(t, "10.0.0.0/8 link 1 metric#1", nil, impl.ErrSyntax, 1)
 }
 
 // illLines are each not a route, for one reason at least; none of them is of no words.
@@ -671,64 +507,29 @@ func illDecimals() []string {
 	}
 }
 
-func TestIllLines(t *testing.T) {
-	good := routeTo(11<<24, 8)
-	for _, line := range illLines() {
-		checkRead(t, line, nil, impl.ErrSyntax, 1)
-		checkRead(t, line+"\n", nil, impl.ErrSyntax, 1)
-		checkRead(t, " \t"+line+"\t # x\n", nil, impl.ErrSyntax, 1)
-		checkRead(t, plainRoute(good)+line+"\n"+plainRoute(good), nil, impl.ErrSyntax, 2)
-		checkRead(t, plainRoute(good)+"\n# "+line+"\n\t\n"+plainRoute(good)+line, nil, impl.ErrSyntax, 6)
-		checkReads(t, "#"+line+"\n"+plainRoute(good), good)
-	}
+func TestLinesOfRoutes(t *testing.T) { routeLines().checkAll(t) }
+
+// A remark cuts a route short where it may be cut, and not elsewhere.
+func TestRemarksInARoute(t *testing.T) {
+	k := routeLines()
+	r := impl.Route{Prefix: impl.Prefix{Addr: 10 << 24, Bits: 8}, Via: gateway, Link: 1}
+	begin := "10.0.0.0/8 via " + plainAddr(gateway)
+	k.checkReads(t, begin+" link 1#metric 23", r)
+	k.checkReads(t, begin+" link 1# 2 metric 23", r)
+	k.checkReads(t, begin+" link 1 metric 2#3", withMetric(r, 1, 2))
+	k.checkIll(t, begin+" #link 1", 1)
+	k.checkIll(t, "10.0.0.0/8# link 1", 1)
+	k.checkIll(t, "10.0.0.0/8 link #1\n", 1)
+	k.checkIll(t, "10.0.0.0/8 link 1 metric#1", 1)
 }
 
-func TestReadRoutesTakesTheEdges(t *testing.T) {
+// A metric of 0 may be told, but is not shown.
+func TestMetricOfNought(t *testing.T) {
 	for _, r := range edgeRoutes() {
-		line := plainRoute(r)
-		checkReads(t, line, r)
 		if r.Metric == 0 {
-			checkReads(t, strings.TrimSuffix(line, "\n")+" metric 0\n", r)
+			routeLines().checkReads(t, plainRoute(r)+" metric 0\n", r)
 		}
 	}
-}
-
-// The first line at fault counts, with its number among all lines, those without words too.
-func TestTheFirstErrorIsTold(t *testing.T) {
-	good := plainRoute(routeTo(10<<24, 8))
-	for _, nothing := range []string{"", "\n", "# x\n", "\n\n \t\n#\n", strings.Repeat("\n", 1000), strings.Repeat("#\n\t\n", 100)} {
-		skipped := int64(strings.Count(nothing, "\n"))
-		checkRead(t, nothing+"x", nil, impl.ErrSyntax, skipped+1)
-		checkRead(t, nothing+"x\n"+nothing+"y\n", nil, impl.ErrSyntax, skipped+1)
-		checkRead(t, nothing+good+nothing+"x\n"+nothing+good+"y", nil, impl.ErrSyntax, 2*skipped+2)
-		checkRead(t, good+nothing+good+nothing+"x\n"+nothing, nil, impl.ErrSyntax, 2*skipped+3)
-		checkRead(t, nothing+good+nothing+good+nothing+"\tx", nil, impl.ErrSyntax, 3*skipped+3)
-	}
-}
-
-// Routes are counted, not lines; the line behind MaxRoutes of them is told by what it is itself.
-func TestReadRoutesBoundsTheRoutes(t *testing.T) {
-	r := withMetric(routeTo(10<<24, 8), 3, 0)
-	full := slices.Repeat([]impl.Route{r}, impl.MaxRoutes)
-	line := plainRoute(r)
-	text := strings.Repeat(line, impl.MaxRoutes)
-	checkReads(t, text[len(line):], full[1:]...)
-	checkReads(t, text, full...)
-	checkReads(t, strings.TrimSuffix(text, "\n"), full...)
-	checkReads(t, text+"\n# "+line+" \t\n"+"#", full...)
-	checkReads(t, strings.Repeat("\n# x\n"+line, impl.MaxRoutes), full...)
-	checkRead(t, text+line, nil, impl.ErrCount, 65)
-	checkRead(t, text+"\n#\n"+line+line, nil, impl.ErrCount, 67)
-	checkRead(t, text+"x", nil, impl.ErrSyntax, 65)
-	checkRead(t, text+"# y\n x\n", nil, impl.ErrSyntax, 66)
-	checkRead(t, text+line+"x\n", nil, impl.ErrCount, 65)
-	checkRead(t, text+"x\n"+line, nil, impl.ErrSyntax, 65)
-	checkRead(t, text+line+line+line, nil, impl.ErrCount, 65)
-	checkRead(t, text+"10.0.0.0/8 link 8\n"+line, nil, impl.ErrSyntax, 65)
-	checkRead(t, "x\n"+text+line, nil, impl.ErrSyntax, 1)
-	checkRead(t, line+"x\n"+text+line, nil, impl.ErrSyntax, 2)
-	checkRead(t, strings.Repeat(line, impl.MaxRoutes-1)+"x\n"+line+line, nil, impl.ErrSyntax, 64)
-	checkRead(t, strings.Repeat(line, 500), nil, impl.ErrCount, 65)
 }
 
 func TestShownRoutes(t *testing.T) {
@@ -743,134 +544,18 @@ func TestShownRoutes(t *testing.T) {
 		{impl.Route{Prefix: impl.Prefix{Addr: lastAddr, Bits: 32}, Via: 224<<24 - 1, Link: 7, Metric: 1000000}, "255.255.255.255/32 via 223.255.255.255 link 7 metric 1000000\n"},
 		{impl.Route{Prefix: impl.Prefix{Addr: 0x0A010200, Bits: 24}, Link: 2, Metric: 100}, "10.1.2.0/24 link 2 metric 100\n"},
 	} {
-		checkShow(t, []impl.Route{c.r}, c.want, impl.OK)
-		checkShow(t, []impl.Route{c.r, {}, c.r}, c.want+"0.0.0.0/0 link 0\n"+c.want, impl.OK)
-	}
-	for _, r := range edgeRoutes() {
-		checkShow(t, []impl.Route{r}, plainRoute(r), impl.OK)
-	}
-}
-
-// Too long a list is told ahead of a route that is not valid, wherever that stands.
-func TestShowRoutesRefuses(t *testing.T) {
-	for _, ill := range illRoutes() {
-		checkShow(t, []impl.Route{ill}, "", impl.ErrForm)
-		checkShow(t, []impl.Route{{}, ill}, "", impl.ErrForm)
-		checkShow(t, []impl.Route{ill, {}}, "", impl.ErrForm)
-	}
-	ill := impl.Route{Link: 8}
-	for _, n := range []int{impl.MaxRoutes - 1, impl.MaxRoutes, impl.MaxRoutes + 1, 2 * impl.MaxRoutes, 100000} {
-		list := make([]impl.Route, n)
-		text, right, wrong := plainRoutes(list), int64(impl.OK), int64(impl.ErrForm)
-		if n > impl.MaxRoutes {
-			text, right, wrong = "", impl.ErrCount, impl.ErrCount
-		}
-		checkShow(t, list, text, right)
-		for _, place := range []int{0, n / 2, n - 1} {
-			list[place] = ill
-			checkShow(t, list, "", wrong)
-			list[place] = impl.Route{}
-		}
-		checkShow(t, slices.Repeat([]impl.Route{ill}, n), "", wrong)
+		routeLines().checkShow(t, []impl.Route{c.r}, c.want, impl.OK)
+		routeLines().checkShow(t, []impl.Route{c.r, {}, c.r}, c.want+"0.0.0.0/0 link 0\n"+c.want, impl.OK)
 	}
 }
 
 // P15: lists of valid routes come back from their texts, and an ill line behind them is told by its number.
-func TestRoutesComeBack(t *testing.T) {
-	chance := newChance()
-	ill := illLines()
-	longest := impl.Route{Prefix: impl.Prefix{Addr: lastAddr, Bits: 32}, Via: 224<<24 - 1, Link: 7, Metric: mostMetric}
-	lists := [][]impl.Route{nil, {}, {{}}, slices.Repeat([]impl.Route{longest}, impl.MaxRoutes)}
-	for n := range impl.MaxRoutes + 1 {
-		for range 5 {
-			lists = append(lists, randomRoutes(chance, n))
-		}
-	}
-	for part := range slices.Chunk(edgeRoutes(), impl.MaxRoutes) {
-		lists = append(lists, part)
-	}
-	for _, list := range lists {
-		text, code := impl.ShowRoutes(list)
-		if code != impl.OK || text != plainRoutes(list) {
-			t.Fatalf("ShowRoutes(%v): %q, %d", list, text, code)
-		}
-		checkReads(t, text, list...)
-		behind := int64(len(list) + 1)
-		for range 10 {
-			line := ill[chance.Intn(len(ill))]
-			checkRead(t, text+line, nil, impl.ErrSyntax, behind)
-			checkRead(t, text+"\n#\n"+line+"\n"+plainRoute(longest), nil, impl.ErrSyntax, behind+2)
-		}
-	}
-}
-
-// What is read shows as a text that is read as the same.
-func TestLinesNearARoute(t *testing.T) {
-	for _, line := range []string{"0.0.0.0/0 link 0", "10.0.0.0/8 via 10.0.0.1 link 7 metric 1000000"} {
-		for _, near := range oneByteOff(line) {
-			checkReadAsModel(t, near)
-			list, code, _ := impl.ReadRoutes(near)
-			if code == impl.OK {
-				text, code := impl.ShowRoutes(list)
-				if code != impl.OK {
-					t.Fatalf("ShowRoutes of what %q tells: %d", near, code)
-				}
-				checkReads(t, text, list...)
-			}
-		}
-	}
-}
-
-// randomText is made of what texts of routes are made of; most lines of some are routes.
-func randomText(chance *rand.Rand) string {
-	pieces := []string{
-		"10.0.0.0/8", "0.0.0.0/0", "1.2.3.4/32", "1.2.3.4/31", "via", "10.0.0.1", "0.0.0.0", "224.0.0.1", "link", "metric", "0", "1", "7", "8", "01", "1000000", "1000001",
-		" ", " ", "\t", "\n", "\n", "#", "\r", "\x00", "\u00a0", "Link", "\xff",
-	}
-	order := []int{0, 4, 5, 8, 11, 9, 15}
-	var text strings.Builder
-	for range chance.Intn(90) {
-		switch chance.Intn(40) {
-		case 0:
-			for range chance.Intn(8) {
-				text.WriteString(pieces[chance.Intn(len(pieces))])
-			}
-		case 1:
-			for _, i := range order {
-				if chance.Intn(10) > 0 {
-					text.WriteString(pieces[i] + " ")
-				}
-			}
-			text.WriteString("\n")
-		case 2, 3:
-			text.WriteString([]string{"\n", " \t\n", "# x\n", "#"}[chance.Intn(4)])
-		default:
-			text.WriteString(plainRoute(randomRoute(chance)))
-		}
-	}
-	return text.String()
-}
+func TestRoutesComeBack(t *testing.T) { routeLines().checkComeBack(t) }
 
 // P51: whatever it is given a call ends, and answers the same again.
 func TestRoutesAnswerTheSameAgain(t *testing.T) {
+	routeLines().checkSameAgain(t)
 	chance := newChance()
-	told := map[int64]int{}
-	for range 6000 {
-		text := randomText(chance)
-		_, code, _ := impl.ReadRoutes(text)
-		told[code]++
-		checkReadAsModel(t, text)
-		checkReadAsModel(t, strings.Clone(text))
-	}
-	for _, code := range []int64{impl.OK, impl.ErrSyntax, impl.ErrCount} {
-		if told[code] < 50 {
-			t.Errorf("code %d comes %d times", code, told[code])
-		}
-	}
-	for range 300 {
-		checkReadAsModel(t, string(randomBytes(chance, chance.Intn(300))))
-	}
-	checkReadAsModel(t, string(randomBytes(chance, impl.MaxText)))
 	numbers := append(edgeNumbers(), 1, 7, 8, 24, 32, 33, mostMetric, mostMetric+1, ownAddr)
 	pick := func() int64 { return numbers[chance.Intn(len(numbers))] }
 	for range 3000 {
@@ -882,44 +567,22 @@ func TestRoutesAnswerTheSameAgain(t *testing.T) {
 		checkAsModel(t, list, dst)
 		checkAsModel(t, slices.Clone(list), dst)
 		text, code := impl.ShowRoutes(list)
-		checkShow(t, slices.Clone(list), text, code)
+		routeLines().checkShow(t, slices.Clone(list), text, code)
 	}
 }
 
-// P51: a list stays as it is, the room behind it too, and an answer is not its memory.
+// P51: a list stays as it is, the room behind it too, and no answer is its memory or another's.
 func TestRoutesLeaveTheirList(t *testing.T) {
+	routeLines().checkLeftAlone(t)
 	chance := newChance()
 	for _, n := range []int{0, 1, 5, impl.MaxRoutes, impl.MaxRoutes + 1} {
 		room := randomRoutes(chance, n+20)
 		kept := slices.Clone(room)
-		list := room[10 : 10+n]
-		for _, dst := range placesOf(list) {
-			impl.FindRoute(list, dst)
+		for _, dst := range placesOf(room[10 : 10+n]) {
+			impl.FindRoute(room[10:10+n], dst)
 		}
-		text, code := impl.ShowRoutes(list)
 		if !slices.Equal(room, kept) {
 			t.Fatalf("a list of %d routes is changed", n)
 		}
-		told := strings.Clone(text)
-		clear(room)
-		if text != told || n <= impl.MaxRoutes && text != plainRoutes(kept[10:10+n]) || (code == impl.OK) != (n <= impl.MaxRoutes) {
-			t.Errorf("the text of %d routes: %q, %d", n, text, code)
-		}
-	}
-}
-
-// P51: two readings of one text share nothing, nor what stands behind their lists.
-func TestReadRoutesAnswersNewMemory(t *testing.T) {
-	chance := newChance()
-	for _, n := range []int{0, 1, 5, impl.MaxRoutes} {
-		list := randomRoutes(chance, n)
-		text := plainRoutes(list)
-		first, _, _ := impl.ReadRoutes(text)
-		second, _, _ := impl.ReadRoutes(text)
-		spoil(second, impl.Route{Link: 99})
-		if !slices.Equal(first, list) || text != plainRoutes(list) {
-			t.Errorf("a list of %d routes shares memory", n)
-		}
-		checkReads(t, text, list...)
 	}
 }
