@@ -48,13 +48,18 @@ func outsOf[Op, Out any](ops []Op, do func(Op) Out) []Out {
 }
 
 // Checksum is the sum of numbers of two bytes, see chapter 2.
-func Checksum(b []byte) int64 {
+func Checksum(b []byte) int64 { return checksumOf(b) }
+
+// checksumOf is the Checksum of parts that stand one behind the other, without putting them together. A part may end
+// in the middle of a number, whose low byte is then the next part's first.
+func checksumOf(parts ...[]byte) int64 {
 	var sum uint64
-	for i := range len(b) / 2 {
-		sum += uint64(b[2*i])<<8 | uint64(b[2*i+1])
-	}
-	if len(b)%2 == 1 {
-		sum += uint64(b[len(b)-1]) << 8
+	shift := 8
+	for _, part := range parts {
+		for _, x := range part {
+			sum += uint64(x) << shift
+			shift = 8 - shift
+		}
 	}
 	return foldAndTurn(sum)
 }

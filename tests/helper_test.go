@@ -1,6 +1,7 @@
 package tests
 
 import (
+	"bytes"
 	"fmt"
 	"math"
 	"math/rand"
@@ -63,5 +64,55 @@ func checkRunOf[Op, Out any](t *testing.T, run func([]Op) ([]Out, int64), same f
 		if !same(out, steps[i].want) {
 			t.Errorf("operation %d, %s: %s, not %s", i, shortly(ops[i]), shortly(out), shortly(steps[i].want))
 		}
+	}
+}
+
+// checkWritesApart asks that what is written of lists in room is the same again, stands in new memory each time, and
+// leaves all of the room as it is.
+func checkWritesApart(t *testing.T, room []byte, write func() ([]byte, int64)) {
+	t.Helper()
+	kept := bytes.Clone(room)
+	first, code := write()
+	told := bytes.Clone(first)
+	second, codeAgain := write()
+	if !bytes.Equal(second, told) || code != codeAgain {
+		t.Errorf("%d bytes, %d, and %d bytes, %d, the second time", len(told), code, len(second), codeAgain)
+	}
+	spoil(second, 99)
+	if !bytes.Equal(first, told) || !bytes.Equal(room, kept) {
+		t.Errorf("an answer of %d bytes shares memory", len(told))
+	}
+	clear(room)
+	if !bytes.Equal(first, told) {
+		t.Errorf("an answer of %d bytes is the argument's memory", len(told))
+	}
+}
+
+// checkReadsApart asks that bytes in the midst of others are read as want each time, and that none of the lists in what
+// is read stands in the bytes, in another answer, or in another of the lists.
+func checkReadsApart[T any](t *testing.T, b []byte, read func([]byte) (T, int64), same func(a, b T) bool, want T, lists ...func(T) []byte) {
+	t.Helper()
+	room := append(append([]byte{9, 9, 9}, b...), bytes.Repeat([]byte{7}, 60)...)
+	kept := bytes.Clone(room)
+	within := room[3 : 3+len(b)]
+	first, _ := read(within)
+	for i := range lists {
+		again, code := read(within)
+		if !same(again, want) || code != impl.OK {
+			t.Fatalf("%.60x are read as %s, %d, not %s", b, shortly(again), code, shortly(want))
+		}
+		spoil(lists[i](again), 99)
+		for k := range lists {
+			if k != i && !bytes.Equal(lists[k](again), lists[k](want)) {
+				t.Errorf("two lists of %s share memory", shortly(want))
+			}
+		}
+	}
+	if !same(first, want) || !bytes.Equal(room, kept) {
+		t.Errorf("%s shares memory", shortly(want))
+	}
+	clear(room)
+	if !same(first, want) {
+		t.Errorf("%s is in the argument's memory", shortly(want))
 	}
 }

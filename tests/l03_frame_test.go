@@ -305,32 +305,8 @@ func TestCutFramesAreRefused(t *testing.T) {
 func TestEncodeFrameLeavesItsPayload(t *testing.T) {
 	for _, n := range []int{0, 1, 20, impl.MaxPayload, impl.MaxPayload + 1} {
 		room := randomBytes(newChance(), n+60)
-		kept := bytes.Clone(room)
 		f := impl.Frame{Dst: 1, Src: 2, Type: 3, Payload: room[10 : 10+n]}
-		b, code := impl.EncodeFrame(f)
-		told := bytes.Clone(b)
-		again, codeAgain := impl.EncodeFrame(f)
-		if !bytes.Equal(again, told) || code != codeAgain {
-			t.Errorf("another answer the second time for %d bytes", n)
-		}
-		for i := range again {
-			again[i]++
-		}
-		if !bytes.Equal(b, told) {
-			t.Errorf("two answers for %d bytes share memory", n)
-		}
-		for i := range b[:cap(b)] {
-			b[:cap(b)][i]++
-		}
-		if !bytes.Equal(room, kept) {
-			t.Errorf("EncodeFrame writes into its payload of %d bytes", n)
-		}
-		clear(room)
-		for i := range told {
-			if b[i] != told[i]+1 {
-				t.Fatalf("byte %d of the answer is the payload's", i)
-			}
-		}
+		checkWritesApart(t, room, func() ([]byte, int64) { return impl.EncodeFrame(f) })
 	}
 }
 
@@ -338,25 +314,7 @@ func TestEncodeFrameLeavesItsPayload(t *testing.T) {
 func TestDecodeFrameLeavesItsBytes(t *testing.T) {
 	for _, n := range []int{0, 1, 20, impl.MaxPayload} {
 		f := randomFrame(newChance(), n)
-		room := append(append([]byte{9, 9, 9}, plainFrame(f)...), bytes.Repeat([]byte{7}, 60)...)
-		kept := bytes.Clone(room)
-		b := room[3 : 3+n+frameAround]
-		got, _ := impl.DecodeFrame(b)
-		again, code := impl.DecodeFrame(b)
-		if !sameFrame(got, f) || !sameFrame(again, f) || code != impl.OK {
-			t.Fatalf("DecodeFrame(%x): %v, then %v, %d", b, got, again, code)
-		}
-		spare := again.Payload[:cap(again.Payload)]
-		for i := range spare {
-			spare[i]++
-		}
-		if !bytes.Equal(room, kept) {
-			t.Errorf("the payload of %d bytes is the argument's memory", n)
-		}
-		clear(room)
-		if !sameFrame(got, f) {
-			t.Errorf("the payload of %d bytes is the argument's, or another answer's, memory", n)
-		}
+		checkReadsApart(t, plainFrame(f), impl.DecodeFrame, sameFrame, f, func(f impl.Frame) []byte { return f.Payload })
 	}
 }
 

@@ -665,54 +665,28 @@ func TestPacketsAnswerTheSameAgain(t *testing.T) {
 func TestEncodeIPLeavesItsLists(t *testing.T) {
 	for _, c := range []struct{ options, payload int }{{0, 0}, {4, 1}, {40, 100}, {40, 65475}, {40, 65476}, {3, 9}, {44, 9}} {
 		room := randomBytes(newChance(), c.options+c.payload+100)
-		kept := bytes.Clone(room)
 		p := simplePacket()
 		p.Options = room[10 : 10+c.options]
 		p.Payload = room[60+c.options : 60+c.options+c.payload]
-		size := impl.PacketSize(p)
-		b, code := impl.EncodeIP(p)
-		told := bytes.Clone(b)
-		again, codeAgain := impl.EncodeIP(p)
-		if !bytes.Equal(again, told) || code != codeAgain || impl.PacketSize(p) != size {
-			t.Errorf("another answer the second time for %d and %d bytes", c.options, c.payload)
+		kept, size := bytes.Clone(room), impl.PacketSize(p)
+		if impl.PacketSize(p) != size || !bytes.Equal(room, kept) {
+			t.Errorf("PacketSize with %d and %d bytes answers otherwise, or changes them", c.options, c.payload)
 		}
-		spoil(again, 99)
-		if !bytes.Equal(b, told) || !bytes.Equal(room, kept) {
-			t.Errorf("an answer for %d and %d bytes shares memory", c.options, c.payload)
-		}
-		clear(room)
-		if !bytes.Equal(b, told) {
-			t.Errorf("an answer for %d and %d bytes is the argument's memory", c.options, c.payload)
-		}
+		checkWritesApart(t, room, func() ([]byte, int64) { return impl.EncodeIP(p) })
 	}
 }
 
 // P51: the bytes that are read stay as they are, the room behind them too; options and payload stand apart from them
 // and from each other.
 func TestDecodeIPLeavesItsBytes(t *testing.T) {
+	optionsOf := func(p impl.Packet) []byte { return p.Options }
+	payloadOf := func(p impl.Packet) []byte { return p.Payload }
 	for _, words := range []int{0, 1, 10} {
 		for _, n := range []int{0, 1, 30, 60000} {
 			p := randomPacket(newChance(), words, n)
-			room := append(append([]byte{9, 9, 9}, plainPacket(p)...), bytes.Repeat([]byte{7}, 60)...)
-			kept := bytes.Clone(room)
-			b := room[3 : len(room)-50]
-			first, _ := impl.DecodeIP(b)
-			second, _ := impl.DecodeIP(b)
-			third, code := impl.DecodeIP(b)
-			if !samePacket(first, p) || !samePacket(second, p) || !samePacket(third, p) || code != impl.OK {
-				t.Fatalf("DecodeIP(%.60x): %.200v, %d", b, third, code)
-			}
-			spoil(second.Options, 99)
-			spoil(third.Payload, 98)
-			if !bytes.Equal(second.Payload, p.Payload) || !bytes.Equal(third.Options, p.Options) {
-				t.Errorf("options of %d words and a payload of %d bytes share memory", words, n)
-			}
-			if !bytes.Equal(room, kept) {
-				t.Errorf("options of %d words or a payload of %d bytes are the argument's memory", words, n)
-			}
-			clear(room)
-			if !samePacket(first, p) {
-				t.Errorf("a packet with %d words and %d bytes is in another's memory", words, n)
+			for _, behind := range []int{0, 10} {
+				b := append(plainPacket(p), make([]byte, behind)...)
+				checkReadsApart(t, b, impl.DecodeIP, samePacket, p, optionsOf, payloadOf)
 			}
 		}
 	}

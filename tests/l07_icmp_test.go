@@ -728,19 +728,8 @@ func TestEncodeIcmpLeavesItsBody(t *testing.T) {
 	for _, n := range []int{0, 1, 100, mostBody, mostBody + 1} {
 		for _, kind := range []int64{0, 3, 8, 11, 99, 256} {
 			room := randomBytes(newChance(), n+40)
-			kept := bytes.Clone(room)
 			m := impl.Icmp{Type: kind, Body: room[20 : 20+n]}
-			first, _ := impl.EncodeIcmp(m)
-			told := bytes.Clone(first)
-			second, _ := impl.EncodeIcmp(m)
-			spoil(second, 99)
-			if !bytes.Equal(first, told) || !bytes.Equal(room, kept) {
-				t.Errorf("an answer for %d bytes shares memory", n)
-			}
-			clear(room)
-			if !bytes.Equal(first, told) {
-				t.Errorf("an answer for %d bytes is the argument's memory", n)
-			}
+			checkWritesApart(t, room, func() ([]byte, int64) { return impl.EncodeIcmp(m) })
 		}
 	}
 }
@@ -749,22 +738,7 @@ func TestEncodeIcmpLeavesItsBody(t *testing.T) {
 func TestDecodeIcmpLeavesItsBytes(t *testing.T) {
 	for _, n := range []int{0, 1, 100, mostBody} {
 		m := impl.Icmp{Type: 8, Rest: 9, Body: randomBytes(newChance(), n)}
-		room := append(append([]byte{9, 9, 9}, plainIcmp(m)...), bytes.Repeat([]byte{7}, 60)...)
-		kept := bytes.Clone(room)
-		b := room[3 : len(room)-60]
-		first, _ := impl.DecodeIcmp(b)
-		second, code := impl.DecodeIcmp(b)
-		if !sameIcmp(first, m) || !sameIcmp(second, m) || code != impl.OK {
-			t.Fatalf("DecodeIcmp(%.60x): %s, %d", b, shortly(second), code)
-		}
-		spoil(second.Body, 99)
-		if !sameIcmp(first, m) || !bytes.Equal(room, kept) {
-			t.Errorf("a body of %d bytes shares memory", n)
-		}
-		clear(room)
-		if !sameIcmp(first, m) {
-			t.Errorf("a body of %d bytes is the argument's memory", n)
-		}
+		checkReadsApart(t, plainIcmp(m), impl.DecodeIcmp, sameIcmp, m, func(m impl.Icmp) []byte { return m.Body })
 	}
 }
 
