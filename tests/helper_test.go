@@ -67,6 +67,35 @@ func checkRunOf[Op, Out any](t *testing.T, run func([]Op) ([]Out, int64), same f
 	}
 }
 
+// byteFault is something that makes bytes ill, and the code that tells it.
+type byteFault struct {
+	make func([]byte)
+	code int64
+}
+
+// makeFaults spoils bytes by the chosen ones of faults, which are in the document's order, and gives the first one's
+// code. The sum is made right for all the other faults, and only then perhaps wrong.
+func makeFaults(b []byte, faults []byteFault, choice int, resum func()) int64 {
+	first := int64(impl.OK)
+	wrongSum := func([]byte) {}
+	for i, fault := range faults {
+		if choice>>i&1 == 0 {
+			continue
+		}
+		if first == impl.OK {
+			first = fault.code
+		}
+		if fault.code == impl.ErrSum {
+			wrongSum = fault.make
+		} else {
+			fault.make(b)
+		}
+	}
+	resum()
+	wrongSum(b)
+	return first
+}
+
 // checkWritesApart asks that what is written of lists in room is the same again, stands in new memory each time, and
 // leaves all of the room as it is.
 func checkWritesApart(t *testing.T, room []byte, write func() ([]byte, int64)) {

@@ -511,15 +511,9 @@ func TestDecodeIPBoundsTheDatagram(t *testing.T) {
 	}
 }
 
-// A fault of a packet's bytes, and the code that tells it.
-type packetFault struct {
-	make func([]byte)
-	code int64
-}
-
 // packetFaults are in the document's order. A head of 24 bytes with 8 behind it is spoilt by them.
-func packetFaults() []packetFault {
-	return []packetFault{
+func packetFaults() []byteFault {
+	return []byteFault{
 		{func(b []byte) { b[0] = 0x50 | b[0]&15 }, impl.ErrVersion},
 		{func(b []byte) { b[0] = b[0]&0xF0 | 4 }, impl.ErrLength},
 		{func(b []byte) { b[11] ^= 1 }, impl.ErrSum},
@@ -532,25 +526,11 @@ func packetFaults() []packetFault {
 
 // Of every choice of faults the first is told; of too few bytes nothing else is.
 func TestDecodeIPTellsTheFirstError(t *testing.T) {
-	const wrongSum = 2
 	faults := packetFaults()
 	for choice := range 1 << len(faults) {
 		b := plainPacket(randomPacket(newChance(), 1, 8))
 		b[6], b[7] = 0, 0
-		want := int64(impl.OK)
-		for i := len(faults) - 1; i >= 0; i-- {
-			if choice>>i&1 == 1 {
-				want = faults[i].code
-				if i != wrongSum {
-					faults[i].make(b)
-				}
-			}
-		}
-		// The sum is made right for all the other faults, and only then perhaps wrong.
-		resum(b)
-		if choice>>wrongSum&1 == 1 {
-			faults[wrongSum].make(b)
-		}
+		want := makeFaults(b, faults, choice, func() { resum(b) })
 		checkDecodeIP(t, b, want)
 		checkDecodeIP(t, b[:19], impl.ErrShort)
 	}
