@@ -5,6 +5,7 @@ import (
 	"fmt"
 	"math"
 	"math/rand"
+	"slices"
 	"testing"
 
 	"loop.example/g00003/impl"
@@ -30,6 +31,16 @@ func edgeNumbers() []int64 {
 		}
 	}
 	return append(list, math.MinInt64, math.MinInt64+1, math.MaxInt64-1, math.MaxInt64)
+}
+
+// aboutEnds are numbers at and beside ends, and edgeNumbers.
+func aboutEnds(ends ...int64) []int64 {
+	list := edgeNumbers()
+	for _, n := range ends {
+		list = append(list, n-1, n, n+1)
+	}
+	slices.Sort(list)
+	return slices.Compact(list)
 }
 
 // shortly shows a value with great lists by its beginning.
