@@ -35,6 +35,8 @@ const (
 // crcPolynomial is the remainder's divisor with its bits in turned order, as the shift to the right needs it.
 const crcPolynomial = 0xEDB88320
 
+func isTime(ms int64) bool { return ms >= 0 && ms <= MaxTime }
+
 // mayPass tells whether a wait from now on is valid. Not by the sum: that of now and a great wait has no room in a number.
 func mayPass(now, wait int64) bool { return wait >= 0 && wait <= MaxTime-now }
 

@@ -156,3 +156,16 @@ func checkReadsApart[T any](t *testing.T, b []byte, read func([]byte) (T, int64)
 		t.Errorf("%s is in the argument's memory", shortly(want))
 	}
 }
+
+// stretches are those of texts like "3-7".
+func stretches(texts ...string) []impl.Stretch {
+	var list []impl.Stretch
+	for _, text := range texts {
+		var s impl.Stretch
+		if n, err := fmt.Sscanf(text, "%d-%d", &s.From, &s.To); n != 2 || err != nil {
+			panic(text)
+		}
+		list = append(list, s)
+	}
+	return list
+}

@@ -2,7 +2,6 @@ package tests
 
 import (
 	"bytes"
-	"fmt"
 	"math"
 	"math/rand"
 	"slices"
@@ -26,15 +25,7 @@ func reads(n int64) impl.RecvOp { return impl.RecvOp{Kind: impl.RecvRead, N: n} 
 
 // recvTold is what an operation tells that reads nothing; each stretch is written as "from-to".
 func recvTold(next, room, unread, held int64, sacks ...string) impl.RecvOut {
-	out := impl.RecvOut{Next: next, Room: room, Unread: unread, Held: held}
-	for _, text := range sacks {
-		var s impl.Stretch
-		if n, err := fmt.Sscanf(text, "%d-%d", &s.From, &s.To); n != 2 || err != nil {
-			panic(text)
-		}
-		out.Sacks = append(out.Sacks, s)
-	}
-	return out
+	return impl.RecvOut{Next: next, Room: room, Unread: unread, Held: held, Sacks: stretches(sacks...)}
 }
 
 func recvRead(data string, out impl.RecvOut) impl.RecvOut {
