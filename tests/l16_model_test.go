@@ -60,27 +60,6 @@ func newModelEnd(c impl.TcpConfig) *modelEnd {
 	return &modelEnd{c: c, fresh: true, rto: impl.NewRto(), cong: cong, finAt: -1, lastSent: -1, timers: map[string]int64{}}
 }
 
-func modelTcpConfig(c impl.TcpConfig) bool {
-	return within(c.LocalPort, 65535) && within(c.RemotePort, 65535) && within(c.Iss, 4294967295) &&
-		within(c.SendSize-1, 262143) && within(c.RecvSize-1, 262143) && within(c.Mss-64, 65431) &&
-		(c.Keep == 0 || within(c.Keep-1000, 999999000))
-}
-
-func modelRunTcp(c impl.TcpConfig, ops []impl.TcpOp) ([]impl.TcpOut, int64) {
-	if !modelTcpConfig(c) {
-		return nil, impl.ErrForm
-	}
-	if len(ops) > 2000 {
-		return nil, impl.ErrCount
-	}
-	m := newModelEnd(c)
-	var outs []impl.TcpOut
-	for _, op := range ops {
-		outs = append(outs, m.do(op))
-	}
-	return outs, impl.OK
-}
-
 func (m *modelEnd) isOpen() bool { return m.state >= 4 }
 
 // e is the place behind the last written byte.

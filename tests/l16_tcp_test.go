@@ -1,8 +1,11 @@
 package tests
 
 import (
+	"bytes"
 	"fmt"
+	"maps"
 	"math/rand"
+	"slices"
 	"strings"
 	"testing"
 
@@ -1019,7 +1022,787 @@ func TestTcpDoubles(t *testing.T) {
 	// Behind a time with nobody's answer they count from 0 on, and nothing is lost by them.
 	ask(third, "pass 200 => cwnd=100 : A 101 501 1000 *100", double+" => : A 201 501 1000 *100", double+" => : A 301 501 1000 *100", double+" => cwnd=100 : A 401 501 1000 *100",
 		double+" => cwnd=100 : A 501 501 1000 *100")
+	// All of what was on the way must have been acknowledged ahead of that; a part of it is not enough.
+	recovering := []string{"pass 200 => cwnd=100 : A 101 501 1000 *100", "come A 501 201 2000 => : A 201 501 1000 *100; A 301 501 1000 *100", "come A 501 301 2000 => cwnd=200 : A 401 501 1000 *100"}
+	checkTcp(t, plainEnd(), following(following(following(linked, four), recovering...), "come A 501 301 2000 => : A 501 501 1000 *100", "come A 501 301 2000 => : A 601 501 1000 *100",
+		"come A 501 301 2000 => cwnd=200 : A 701 501 1000 *100")...)
+	checkTcp(t, plainEnd(), following(following(following(linked, four), recovering...), "come A 501 500 2000 => cwnd=300 : A 501 501 1000 *100; A 601 501 1000 *100", "come A 501 500 2000 => : A 701 501 1000 *100",
+		"come A 501 500 2000 => : A 801 501 1000 *100", "come A 501 500 2000 => cwnd=300 : A 901 501 1000 *100")...)
+	checkTcp(t, plainEnd(), following(following(following(linked, four), recovering...), "come A 501 501 2000 => cwnd=300 : A 501 501 1000 *100; A 601 501 1000 *100; A 701 501 1000 *100", "come A 501 501 2000 => : A 801 501 1000 *100",
+		"come A 501 501 2000 => : A 901 501 1000 *100", "come A 501 501 2000 => cwnd=250 : A 501 501 1000 *100")...)
+	// One byte is as much as any to lose the next piece by.
+	checkTcp(t, plainEnd(), following(linked, "write 300", double, double, double+" => cwnd=200 : A 101 501 1000 *100", "come A 501 102 2000 =>", "come A 501 102 2000 => : A 102 501 1000 *99")...)
 	// Behind it they do.
 	ask(third, "come A 501 701 2000 => flight=300 : A 701 501 1000 *100; A 801 501 1000 *100; A 901 501 1000 *100",
 		"come A 501 701 2000 => flight=400 : PA 1001 501 1000 *100", "come A 501 701 2000 => flight=400", "come A 501 701 2000 => flight=400 cwnd=200 : A 701 501 1000 *100")
+}
+
+// What is lost goes ahead of what is new, each time as much as there is room for.
+func TestTcpSendsLostAhead(t *testing.T) {
+	linked := inStates()[impl.TcpEstablished]
+	checkTcp(t, plainEnd(), following(linked, "write 1000 => took=1000 flight=400 cwnd=400 : A 101 501 1000 *100; A 201 501 1000 *100; A 301 501 1000 *100; A 401 501 1000 *100",
+		"pass 199 =>", "pass 1 => flight=400 cwnd=100 : A 101 501 1000 *100", "come A 501 201 2000 => flight=300 cwnd=200 : A 201 501 1000 *100; A 301 501 1000 *100",
+		"come A 501 401 2000 => flight=300 cwnd=300 : A 401 501 1000 *100; A 501 501 1000 *100; A 601 501 1000 *100", "come A 501 601 2000 => flight=300 cwnd=300 : A 701 501 1000 *100; A 801 501 1000 *100",
+		"come A 501 701 2000 => flight=400 cwnd=400 : A 901 501 1000 *100; PA 1001 501 1000 *100")...)
+	// A lost piece for which there is no room keeps new bytes from being sent.
+	told := []string{"connect", "come SA 500 101 2000 sackok", "write 1000", "pass 200 => cwnd=100 : A 101 501 1000 *100"}
+	checkTcp(t, plainEnd(), following(told, "come A 501 101 2000 => flight=400 cwnd=100", "come A 501 101 2000 sack 301-501 => flight=400 cwnd=100",
+		"come A 501 101 2000 sack 101-201 => flight=400 : A 201 501 1000 *100", "come A 501 101 2000 sack 201-301 => flight=500 : A 501 501 1000 *100",
+		"come A 501 501 2000 => flight=200 cwnd=200 : A 601 501 1000 *100")...)
+	// Pieces that are smaller than a segment may be just as much as there is room for, and no more.
+	quick := endWith(func(c *impl.TcpConfig) { c.NoDelay = true })
+	checkTcp(t, quick, following(linked, "write 300 => flight=300 took=300 : A 101 501 1000 *100; A 201 501 1000 *100; PA 301 501 1000 *100", "write 99 => took=99 flight=399 : PA 401 501 1000 *99",
+		"write 1 => took=1 flight=400 : PA 500 501 1000 *1", "write 1 => took=1 flight=400", "come A 501 500 2000 => flight=2 cwnd=500 : PA 501 501 1000 *1")...)
+	checkTcp(t, quick, following(linked, "write 300", "write 99 => took=99 flight=399 : PA 401 501 1000 *99", "write 2 => took=2 flight=399", "come A 501 201 2000 => flight=301 cwnd=500 : PA 500 501 1000 *2")...)
+}
+
+// The FIN needs room of its own: in the congestion window, and in what the other end allows.
+func TestTcpSendsFin(t *testing.T) {
+	received := []string{"listen", "come S 500 0 2000"}
+	checkTcp(t, plainEnd(), following(received, "write 400", "shut", "come A 501 101 2000 => state=5 flight=300 cwnd=400 : A 101 501 1000 *100; A 201 501 1000 *100; A 301 501 1000 *100",
+		"come A 501 201 2000 => flight=301 cwnd=500 : FPA 401 501 1000 *100")...)
+	checkTcp(t, plainEnd(), following(received, "write 400", "come A 501 101 2000 => flight=400 : A 101 501 1000 *100; A 201 501 1000 *100; A 301 501 1000 *100; PA 401 501 1000 *100",
+		"shut => state=5 flight=400", "come A 501 102 2000 => flight=400 cwnd=401 : FA 501 501 1000")...)
+	checkTcp(t, plainEnd(), following(received, "write 399", "shut", "come A 501 101 2000 => flight=400 : A 101 501 1000 *100; A 201 501 1000 *100; A 301 501 1000 *100; FPA 401 501 1000 *99")...)
+	// Its place within the other end's window, just outside of it, and with none.
+	allowing := func(window int, told string) []string {
+		return []string{"listen", "come S 500 0 0", "write 50", "shut", fmt.Sprintf("come A 501 101 %d => state=5 %s", window, told)}
+	}
+	checkTcp(t, plainEnd(), following(allowing(52, "flight=51 : FPA 101 501 1000 *50"), "pass 200 => : FPA 101 501 1000 *50")...)
+	checkTcp(t, plainEnd(), following(allowing(51, "flight=51 : FPA 101 501 1000 *50"), "come A 501 151 0 => flight=1", "come A 501 152 0 => flight=0 state=6")...)
+	checkTcp(t, plainEnd(), following(allowing(50, "flight=50 : PA 101 501 1000 *50"), "come A 501 151 0 => flight=0", "pass 199 =>", "pass 1 => : A 150 501 1000",
+		"come A 501 151 1 => flight=1 : FA 151 501 1000", "come A 501 152 0 => state=6")...)
+	checkTcp(t, plainEnd(), following(allowing(0, "flight=0"), "pass 200 => : A 100 501 1000", "come A 501 101 51 => flight=51 : FPA 101 501 1000 *50")...)
+	checkTcp(t, plainEnd(), "listen", "come S 500 0 0", "shut", "come A 501 101 0 => state=5 flight=0", "pass 200 => : A 100 501 1000", "come A 501 101 1 => flight=1 : FA 101 501 1000")
+	// A piece that is larger than the congestion window goes where nothing else is on the way.
+	checkTcp(t, plainEnd(), following(received, "write 100", "shut", "come A 501 101 2000 => flight=101 : FPA 101 501 1000 *100", "pass 200 => cwnd=100 flight=101 : FPA 101 501 1000 *100")...)
+	// Behind the FIN nothing is sent, whatever there is room for.
+	checkTcp(t, plainEnd(), following(inStates()[impl.TcpFinWait1], "come A 501 101 2000 => state=5 flight=1", "come A 501 101 2000 =>", "come A 501 101 2000 => : FA 101 501 1000")...)
+}
+
+// Each of the reasons for a segment, alone.
+func TestTcpSendsWhatIsWorthIt(t *testing.T) {
+	linked := inStates()[impl.TcpEstablished]
+	quick := endWith(func(c *impl.TcpConfig) { c.NoDelay = true })
+	for _, c := range []impl.TcpConfig{plainEnd(), quick} {
+		// Full, while something is on the way.
+		checkTcp(t, c, following(linked, "write 100 => took=100 : PA 101 501 1000 *100", "write 100 => took=100 : PA 201 501 1000 *100")...)
+		// All there is, and nothing on the way.
+		checkTcp(t, c, following(linked, "write 50 => took=50 : PA 101 501 1000 *50", "come A 501 151 2000 =>", "write 1 => took=1 : PA 151 501 1000 *1")...)
+		// All there is, with the FIN.
+		checkTcp(t, c, "listen", "come S 500 0 2000", "write 149", "shut", "come A 501 101 2000 => flight=150 : A 101 501 1000 *100; FPA 201 501 1000 *49")
+		// The FIN alone, while something is on the way.
+		checkTcp(t, c, following(linked, "write 50", "shut => flight=51 : FA 151 501 1000")...)
+		// Neither full, nor all, nor half of what was ever allowed, though nothing is on the way.
+		checkTcp(t, c, following(linked, "come A 501 101 50", "write 99 => took=99 flight=0", "come A 501 101 98 => flight=0", "come A 501 101 99 => flight=99 : PA 101 501 1000 *99")...)
+		checkTcp(t, c, "connect", "come SA 500 101 100", "come A 501 101 49", "write 60 => took=60 flight=0", "come A 501 101 50 => flight=50 : A 101 501 1000 *50")
+		checkTcp(t, c, "connect", "come SA 500 101 101", "come A 501 101 50", "write 60 => took=60 flight=0", "come A 501 101 51 => flight=51 : A 101 501 1000 *51")
+		// Without bytes, and without a FIN.
+		checkTcp(t, c, "connect", "write 0 =>", "come SA 500 101 1", "write 0 =>", "pass 1000000 =>")
+	}
+	// All there is, while something is on the way: only without delay.
+	checkTcp(t, plainEnd(), following(linked, "write 50", "write 49 => took=49", "write 50 => took=50", "write 1 => took=1 : PA 151 501 1000 *100", "write 99 => took=99", "come A 501 151 2000 =>",
+		"come A 501 251 2000 => : PA 251 501 1000 *99")...)
+	checkTcp(t, quick, following(linked, "write 50", "write 49 => took=49 : PA 151 501 1000 *49", "write 1 => took=1 : PA 200 501 1000 *1")...)
+	// Half of the largest window, while something is on the way.
+	checkTcp(t, plainEnd(), "connect", "come SA 500 101 100", "write 49 => took=49 : PA 101 501 1000 *49", "write 49 => took=49", "write 1 => took=1 : PA 150 501 1000 *50", "write 1 => took=1")
+	checkTcp(t, plainEnd(), "connect", "come SA 500 101 101", "write 49 => took=49 : PA 101 501 1000 *49", "write 50 => took=50", "write 1 => took=1 : PA 150 501 1000 *51", "write 1 => took=1")
+	// As large as it ever was, not as it is by now.
+	checkTcp(t, plainEnd(), following(linked, "come A 501 101 60", "write 20 => took=20 : PA 101 501 1000 *20", "write 40 => took=40", "come A 501 121 60 => : PA 121 501 1000 *40")...)
+}
+
+// sizesOf tells how many segments there are by how many bytes they have.
+func sizesOf(list []impl.Segment) map[int]int {
+	sizes := map[int]int{}
+	for _, g := range list {
+		sizes[len(g.Data)]++
+	}
+	return sizes
+}
+
+// A board with as many pieces as there may be takes no more; one with too many is not cut.
+func TestTcpFullBoard(t *testing.T) {
+	for _, row := range []struct {
+		quick  bool
+		flight int64
+		sizes  map[int]int
+	}{
+		// 65495 is 1023 times 64, and 23.
+		{false, 4 * 65495, map[int]int{64: 4 * 1023, 23: 4}},
+		{true, mostWritten, map[int]int{65495: 4, 164: 1}},
+	} {
+		c := endWith(func(c *impl.TcpConfig) { c.SendSize, c.Mss, c.NoDelay = mostWritten, 65495, row.quick })
+		s := &tcpText{c: c, written: 101}
+		for _, text := range []string{"connect", "come SA 500 101 65535 mss 65535 scale 14", "come A 501 101 65535", "write 262144", "come A 501 65596 65535",
+			"come A 501 131091 65535", "come A 501 196586 65535", "write 196485", "toobig 104"} {
+			s.ops = append(s.ops, s.operation(t, text))
+		}
+		outs := runAll(t, running(c), s.ops)
+		last := outs[len(outs)-1]
+		if last.Code != impl.OK || last.Cwnd != 327475 || last.Flight != row.flight || last.Unsent != mostWritten || !maps.Equal(sizesOf(last.Sent), row.sizes) {
+			t.Errorf("%+v: %d segments of %v, %s", row, len(last.Sent), sizesOf(last.Sent), shortly(last))
+		}
+	}
+}
+
+// With nothing sent for as long as an answer would be waited for, it begins slowly again.
+func TestTcpBeginsSlowlyAgain(t *testing.T) {
+	linked := inStates()[impl.TcpEstablished]
+	grown := following(linked, "write 400", "come A 501 501 2000 => cwnd=500")
+	checkTcp(t, plainEnd(), following(grown, "pass 199", "write 1 => took=1 cwnd=500 : PA 501 501 1000 *1")...)
+	checkTcp(t, plainEnd(), following(grown, "pass 200", "write 1 => took=1 cwnd=400 : PA 501 501 1000 *1")...)
+	// Any sending tells it, even where there is nothing to send; a bare acknowledgement is no sending of it.
+	checkTcp(t, plainEnd(), following(grown, "pass 200", "write 0 => cwnd=400")...)
+	checkTcp(t, plainEnd(), following(grown, "pass 100", "come AU 501 501 2000 => : A 501 501 1000", "pass 99", "write 0 => cwnd=500", "pass 1", "write 0 => cwnd=400")...)
+	checkTcp(t, plainEnd(), following(grown, "pass 200", "come A 501 501 2000 => cwnd=400")...)
+	checkTcp(t, plainEnd(), following(grown, "pass 200", "shut => cwnd=400 : FA 501 501 1000")...)
+	// A FIN is something that has been sent, too; and behind its acknowledgement nothing more is.
+	checkTcp(t, plainEnd(), following(grown, "pass 199", "shut", "come A 501 502 2000 => state=6 cwnd=501", "pass 5000", "come A 501 502 2000 => cwnd=501")...)
+	// Not while something is on the way, nor while nothing was sent behind the SYN.
+	checkTcp(t, plainEnd(), following(grown, "write 200 => took=200 flight=200 : A 501 501 1000 *100; PA 601 501 1000 *100", "pass 199", "come A 501 601 2000 => cwnd=600", "pass 200", "write 0 => cwnd=600 flight=100")...)
+	checkTcp(t, plainEnd(), following(linked, "toobig 104 => cwnd=400", "pass 5000", "write 0 => cwnd=400", "write 1 => took=1 cwnd=400 : PA 101 501 1000 *1", "come A 501 102 2000 => cwnd=401", "pass 5000", "write 0 => cwnd=256")...)
+	// What is sent again counts from then on.
+	told := []string{"connect", "come SA 500 101 5000 sackok", "write 1000", "come A 501 201 5000", "come A 501 301 5000", "come A 501 401 5000", "come A 501 501 5000", "come A 501 601 5000 => cwnd=900 flight=500"}
+	again := following(told, "write 500 => took=500 flight=900 : A 1101 501 1000 *100; A 1201 501 1000 *100; A 1301 501 1000 *100; A 1401 501 1000 *100", "come A 501 701 5000 => cwnd=1000 : PA 1501 501 1000 *100",
+		"pass 100", "come A 501 701 5000 sack 801-1601 => cwnd=450 flight=900 : A 701 501 1000 *100", "come A 501 1601 5000 => cwnd=450 flight=0")
+	checkTcp(t, plainEnd(), following(again, "pass 199", "write 0 => cwnd=450", "pass 1", "write 0 => cwnd=400")...)
+}
+
+func TestTcpPasses(t *testing.T) {
+	c := plainEnd()
+	checkTcp(t, c, "pass 1000000000 => state=0", "pass 0 => state=0", "pass 1 => code=1", "listen => state=1", "pass 1 => code=1 state=1", "pass 0 => state=1")
+	checkTcp(t, c, "connect", "pass 999999999 => state=0 : "+strings.TrimSuffix(strings.Repeat("S 100 0 1000 mss 100 scale 0 sackok; ", 8), "; "), "pass 2 => code=1", "pass 1 =>", "read 1 => code=15")
+	// What is not valid passes no time.
+	checkTcp(t, c, "connect", "pass 999", "pass 1000000000 => code=1 state=2", "pass 0 => state=2", "pass 1 => state=2 : S 100 0 1000 mss 100 scale 0 sackok", "pass 0 =>")
+	// A timer whose time is the last one there is.
+	late := endWith(func(c *impl.TcpConfig) { c.Keep = lastTime })
+	checkTcp(t, late, following(inStates()[impl.TcpEstablished], "pass 999999999 =>", "pass 1 => state=4 : A 100 501 1000")...)
+	checkTcp(t, late, following(inStates()[impl.TcpEstablished], "pass 1", "come A 501 101 2000", "pass 999999999 => state=4")...)
+}
+
+// Eight times it is sent again, at twice the distance each time; with the ninth it dies.
+func TestTcpResends(t *testing.T) {
+	linked := inStates()[impl.TcpEstablished]
+	c := plainEnd()
+	piece, dead := "PA 101 501 1000 *5", []string{"write 1 => code=15", "read 1 => code=15", "shut => code=13", "come A 501 106 2000 => : R 106 0 0"}
+	wait := func(ms, of int, text string) []string {
+		return []string{fmt.Sprintf("pass %d =>", ms-1), fmt.Sprintf("pass 1 => unsent=%d flight=%d : %s", of, of, text)}
+	}
+	lines := following(linked, "write 5 => took=5 : "+piece)
+	for _, ms := range []int{200, 400, 800, 1600, 3200, 6400, 12800, 25600} {
+		lines = append(lines, wait(ms, 5, piece)...)
+	}
+	checkTcp(t, c, following(following(lines, "pass 51199 => state=4", "pass 1 => state=0 unsent=0 flight=0 cwnd=0"), dead...)...)
+	// Anything acknowledged counts them from 0 on, though the waits go on as they were.
+	two := []string{"write 200", "pass 51000", "come A 501 201 2000 => state=4 flight=100 : PA 201 501 1000 *100"}
+	checkTcp(t, c, following(linked, following(two, "pass 51199 =>", "pass 1 => state=4 : PA 201 501 1000 *100", "pass 59999 =>", "pass 1 => : PA 201 501 1000 *100", "pass 359999 => : PA 201 501 1000 *100; PA 201 501 1000 *100; PA 201 501 1000 *100; PA 201 501 1000 *100; PA 201 501 1000 *100",
+		"pass 1 => : PA 201 501 1000 *100", "pass 59999 => state=4", "pass 1 => state=0")...)...)
+	// What is acknowledged already does not.
+	checkTcp(t, c, following(lines, "come A 501 101 2000 => state=4", "pass 51199 => state=4", "pass 1 => state=0")...)
+	// A wait begins with the first piece that is on the way, and again with each acknowledgement of something.
+	checkTcp(t, c, following(linked, "write 100", "pass 150", "write 100 => took=100 : PA 201 501 1000 *100", "pass 49 =>", "pass 1 => : A 101 501 1000 *100")...)
+	checkTcp(t, c, following(linked, "write 100", "pass 150", "write 100", "come A 501 201 2000 => flight=100", "pass 199 =>", "pass 1 => : PA 201 501 1000 *100")...)
+}
+
+// A SYN is sent nine times, alone or as an answer.
+func TestTcpResendsSyn(t *testing.T) {
+	for _, ahead := range [][]string{{"connect"}, {"listen", "come S 500 0 2000"}} {
+		state, text := 2, "S 100 0 1000 mss 100 scale 0 sackok"
+		if len(ahead) > 1 {
+			state, text = 3, "SA 100 501 1000 mss 100"
+		}
+		lines := following(ahead, "write 7")
+		for _, ms := range []int{1000, 2000, 4000, 8000, 16000, 32000, 60000, 60000} {
+			lines = append(lines, fmt.Sprintf("pass %d => state=%d cwnd=400", ms-1, state), fmt.Sprintf("pass 1 => state=%d flight=1 cwnd=400 unsent=7 : %s", state, text))
+		}
+		checkTcp(t, plainEnd(), following(lines, fmt.Sprintf("pass 59999 => state=%d", state), "pass 1 => state=0 unsent=0", "read 1 => code=15")...)
+	}
+	// No round trip is measured of one that was sent twice: what is written then waits for as long as the SYN did.
+	twice := []string{"connect", "pass 1000", "come SA 500 101 2000", "write 5 => took=5 : PA 101 501 1000 *5", "pass 1999 =>", "pass 1 => : PA 101 501 1000 *5"}
+	checkTcp(t, plainEnd(), twice...)
+	// Of one that was sent once it is: eight times 700, and 4 times 350, are 2100 to wait.
+	checkTcp(t, plainEnd(), "connect", "pass 700", "come SA 500 101 2000", "write 5", "pass 2099 =>", "pass 1 => : PA 101 501 1000 *5")
+	checkTcp(t, plainEnd(), "listen", "come S 500 0 2000", "pass 700", "come A 501 101 2000", "write 5", "pass 2099 =>", "pass 1 => : PA 101 501 1000 *5")
+	// Tries are counted from 0 on when it is open, and the congestion window is that of the segment size.
+	checkTcp(t, plainEnd(), "connect", "pass 242999", "come SA 500 101 2000 mss 80 => state=4 cwnd=320 : A 101 501 1000", "write 5", "pass 60000 => cwnd=80 : PA 101 501 1000 *5", "pass 420000 => state=4 : "+
+		strings.TrimSuffix(strings.Repeat("PA 101 501 1000 *5; ", 7), "; "), "pass 59999 => state=4", "pass 1 => state=0")
+}
+
+// What goes off at one time goes off in the document's order: what is sent again, or a probe, acknowledges what has
+// come, so that nothing is left to be told late.
+func TestTcpTimersOfOneTime(t *testing.T) {
+	ahead := []string{"connect", "come S 500 0 2000"}
+	resend := following(ahead, "come A 501 101 2000 => state=4", "write 5 => took=5 : PA 101 501 1000 *5", "pass 960", "come A 501 101 2000 *3 =>")
+	checkTcp(t, plainEnd(), following(resend, "pass 40 => : PA 101 504 997 *5", "pass 1 =>")...)
+	checkTcp(t, plainEnd(), following(resend, "pass 39 =>", "pass 1000 => : PA 101 504 997 *5", "pass 1000 =>", "pass 1 => : PA 101 504 997 *5")...)
+	probe := following(ahead, "come A 501 101 0 => state=4", "write 5 => took=5", "pass 960", "come A 501 101 0 *3 =>")
+	checkTcp(t, plainEnd(), following(probe, "pass 40 => : A 100 504 997", "pass 1 =>")...)
+	// One behind the other within one wait, the earliest first.
+	checkTcp(t, plainEnd(), following(ahead, "come A 501 101 2000", "write 5", "pass 959", "come A 501 101 2000 *3 =>", "pass 2000 => : A 106 504 997; PA 101 504 997 *5")...)
+	// The probe and the one of Keep at one time: both are sent.
+	keep := endWith(func(c *impl.TcpConfig) { c.Keep = 1000 })
+	checkTcp(t, keep, following(ahead, "come A 501 101 0", "write 5", "pass 999 =>", "pass 1 => : A 100 501 1000; A 100 501 1000", "pass 2000 => : A 100 501 1000")...)
+}
+
+func TestTcpProbes(t *testing.T) {
+	linked := inStates()[impl.TcpEstablished]
+	c := plainEnd()
+	none := following(linked, "come A 501 101 0", "write 60 => took=60 flight=0 unsent=60")
+	probe := " => flight=0 unsent=60 : A 100 501 1000"
+	row := none
+	for _, ms := range []int{200, 400, 800, 1600, 3200, 6400, 12800, 25600} {
+		row = following(row, fmt.Sprintf("pass %d =>", ms-1), "pass 1"+probe)
+	}
+	// Nobody answers.
+	checkTcp(t, c, following(row, "pass 51199 => state=4", "pass 1 => state=0 unsent=0", "write 1 => code=15", "read 1 => code=15")...)
+	// An answer lets it live, but the pauses grow on, up to the longest one.
+	checkTcp(t, c, following(row, "come A 501 101 0 =>", "pass 51199 =>", "pass 1"+probe, "pass 59999 =>", "pass 1"+probe, "pass 59999 =>", "pass 1"+probe, "pass 300000 => state=4 : "+
+		strings.TrimSuffix(strings.Repeat("A 100 501 1000; ", 5), "; "), "pass 59999 => state=4", "pass 1 => state=0", "read 1 => code=15")...)
+	// Only what acknowledges is an answer.
+	checkTcp(t, c, following(row, "come AU 501 101 0 => : A 101 501 1000", "come A 501 100 0", "come - 501 101 0", "come A 9999 101 0 => : A 101 501 1000", "pass 51200 => state=0")...)
+	// A new row begins when a window has opened meanwhile; its first pause is that of all.
+	checkTcp(t, c, following(none, "pass 600 => : A 100 501 1000; A 100 501 1000", "come A 501 101 60 => flight=60 : PA 101 501 1000 *60", "come A 501 161 0 => flight=0", "pass 100000 =>", "write 5 => took=5", "pass 199 =>", "pass 1 => : A 160 501 1000", "pass 400 => : A 160 501 1000")...)
+	// Room that is not worth a segment by itself is worth one in place of a probe.
+	checkTcp(t, c, following(none, "come A 501 101 50 => flight=0", "pass 199 =>", "pass 1 => flight=50 : A 101 501 1000 *50", "pass 199 =>", "pass 1 => cwnd=100 flight=50 : A 101 501 1000 *50", "come A 501 151 9 => flight=0",
+		"pass 399 =>", "pass 1 => flight=9 : A 151 501 1000 *9", "come A 501 160 1 => flight=1 : PA 160 501 1000 *1")...)
+	// Such a segment is one that nobody answered, until something is acknowledged; then resend takes over.
+	checkTcp(t, c, following(row, "come A 501 101 50 =>", "pass 51200 => flight=50 : A 101 501 1000 *50", "come A 501 151 0 => flight=0", "pass 199 =>", "pass 1 => : A 150 501 1000",
+		"pass 399 =>", "pass 1 => : A 150 501 1000")...)
+	// With NoDelay, too; and with a FIN behind the bytes.
+	quick := endWith(func(c *impl.TcpConfig) { c.NoDelay = true })
+	checkTcp(t, quick, following(none, "come A 501 101 50 => flight=0", "shut => state=5 flight=0", "pass 200 => flight=50 : A 101 501 1000 *50", "come A 501 151 10 => flight=10 : PA 151 501 1000 *10", "come A 501 161 1 => flight=1 : FA 161 501 1000")...)
+	// One byte that does not fit keeps it on; what is written more does not put it off, nor does the other end.
+	checkTcp(t, c, following(none, "pass 150", "write 20 => took=20", "come A 501 101 10 => flight=0", "come A 501 101 0 *5 =>", "pass 40 => : A 101 506 995", "pass 9 =>", "pass 1 => flight=0 : A 100 506 995")...)
+	// Nothing waits: none.
+	checkTcp(t, c, following(linked, "come A 501 101 0", "write 0 =>", "pass 100000 =>", "come FA 501 101 0 => : A 101 502 999", "pass 100000 =>")...)
+	// Sending to a closed window is told by probes in CloseWait and in LastAck, too.
+	checkTcp(t, c, following(linked, "come FA 501 101 0", "write 5", "pass 200 => : A 100 502 999", "shut => state=9", "pass 400 => state=9 : A 100 502 999", "pass 101600 => state=0 : "+
+		strings.TrimSuffix(strings.Repeat("A 100 502 999; ", 6), "; "))...)
+}
+
+func TestTcpKeeps(t *testing.T) {
+	c := endWith(func(c *impl.TcpConfig) { c.Keep = 5000 })
+	linked := inStates()[impl.TcpEstablished]
+	probe := " => state=4 flight=0 : A 100 501 1000"
+	five := following(linked, "pass 4999 =>", "pass 1"+probe, "pass 9999 =>", "pass 1"+probe, "pass 10000"+probe, "pass 10000"+probe, "pass 9999 =>", "pass 1"+probe)
+	checkTcp(t, c, following(five, "pass 9999 => state=4", "pass 1 => state=0", "read 1 => code=15")...)
+	// An answer to the fifth, at the last moment, and whatever comes: all begins anew.
+	for _, answer := range []string{"come A 501 101 2000 =>", "come AU 501 101 2000 => : A 101 501 1000", "come R 9999 0 0 =>", "come S 9999 0 0 => : A 101 501 1000", "come - 501 0 0 =>"} {
+		checkTcp(t, c, following(five, "pass 9999 =>", answer, "pass 4999 =>", "pass 1"+probe, "pass 40000 => state=4 : A 100 501 1000; A 100 501 1000; A 100 501 1000; A 100 501 1000", "pass 9999 => state=4", "pass 1 => state=0")...)
+	}
+	// What is not valid has not come.
+	checkTcp(t, c, following(five, "come A 501 101 2000 *65496 => code=1", "pass 10000 => state=0")...)
+	// Not while something is on the way: then it waits once more.
+	checkTcp(t, c, following(linked, "pass 4900", "write 5", "pass 100 =>", "pass 100 => : PA 101 501 1000 *5", "come A 501 106 2000 =>", "pass 4999 =>", "pass 1 => : A 105 501 1000")...)
+	checkTcp(t, c, following(linked, "write 5", "pass 102199 => state=4 : "+strings.TrimSuffix(strings.Repeat("PA 101 501 1000 *5; ", 8), "; "), "pass 1 => state=0")...)
+	// While a row lasts, nothing else is put off.
+	checkTcp(t, c, following(linked, "pass 5000"+probe, "write 5 => took=5 : PA 101 501 1000 *5", "pass 10000 => : PA 101 501 1000 *5; PA 101 501 1000 *5; PA 101 501 1000 *5; PA 101 501 1000 *5; PA 101 501 1000 *5", "come A 501 106 2000 =>",
+		"pass 4999 =>", "pass 1 => : A 105 501 1000")...)
+	// Only in two states; from being open on, and not ahead of it.
+	closing := following(linked, "come FA 501 101 2000", "pass 5000 => state=7 : A 100 502 999", "pass 49999 => state=7 : A 100 502 999; A 100 502 999; A 100 502 999; A 100 502 999", "pass 1 => state=0")
+	checkTcp(t, c, following(closing, "read 1 => code=17", "write 1 => code=15")...)
+	for _, state := range []int{impl.TcpFinWait2, impl.TcpTimeWait} {
+		checkTcp(t, c, following(inStates()[state], "pass 59999 => state="+fmt.Sprint(state))...)
+	}
+	checkTcp(t, c, following(inStates()[impl.TcpFinWait2], "pass 4999", "come A 501 102 2000 =>", "pass 1000000 => state=6", "come FA 501 102 2000 => state=10 : A 102 502 999")...)
+	checkTcp(t, c, "listen", "pass 100000 => state=1", "come S 500 0 2000", "pass 900 =>", "come A 501 101 2000 => state=4", "pass 4999 =>", "pass 1 => : A 100 501 1000")
+	checkTcp(t, c, "connect", "pass 999", "come SA 500 101 2000 => state=4 : A 101 501 1000", "pass 4999 =>", "pass 1 => : A 100 501 1000")
+	// Off, it stays off.
+	checkTcp(t, plainEnd(), following(linked, "come A 501 101 2000", "pass 1000000 => state=4")...)
+	least := endWith(func(c *impl.TcpConfig) { c.Keep = 1000 })
+	checkTcp(t, least, following(linked, "pass 999 =>", "pass 1"+probe, "pass 49999 => state=4 : A 100 501 1000; A 100 501 1000; A 100 501 1000; A 100 501 1000", "pass 1 => state=0")...)
+}
+
+func TestTcpComplaints(t *testing.T) {
+	linked := inStates()[impl.TcpEstablished]
+	c := plainEnd()
+	four := following(linked, "write 400")
+	// What is no size of a packet, what is no news, and what is.
+	for _, none := range []string{"toobig 67 => code=1", "toobig 65536 => code=1", "toobig -1 => code=1", "toobig 140 => cwnd=400 flight=400", "toobig 141 =>", "toobig 65535 => cwnd=400"} {
+		checkTcp(t, c, following(four, none, "pass 199 =>", "pass 1 => : A 101 501 1000 *100")...)
+	}
+	small := " => flight=400 cwnd=400 : A 101 501 1000 *64; A 165 501 1000 *36; A 201 501 1000 *64; A 265 501 1000 *36; A 301 501 1000 *64; A 365 501 1000 *36; A 401 501 1000 *64; PA 465 501 1000 *36"
+	for _, packet := range []string{"68", "69", "103", "104"} {
+		checkTcp(t, c, following(four, "toobig "+packet+small, "toobig "+packet+" =>", "toobig 68 =>", "toobig 139 =>")...)
+	}
+	checkTcp(t, c, following(four, "toobig 139 => : A 101 501 1000 *99; A 200 501 1000 *1; A 201 501 1000 *99; A 300 501 1000 *1; A 301 501 1000 *99; A 400 501 1000 *1; A 401 501 1000 *99; PA 500 501 1000 *1",
+		"toobig 139 =>", "toobig 105 => : A 101 501 1000 *65; A 166 501 1000 *34; A 200 501 1000 *1; A 201 501 1000 *65; A 266 501 1000 *34; A 300 501 1000 *1; A 301 501 1000 *65; A 366 501 1000 *34; A 400 501 1000 *1; "+
+			"A 401 501 1000 *65; A 466 501 1000 *34; PA 500 501 1000 *1", "toobig 104 => : A 101 501 1000 *64; A 165 501 1000 *1; A 166 501 1000 *34; A 200 501 1000 *1; A 201 501 1000 *64; A 265 501 1000 *1; A 266 501 1000 *34; A 300 501 1000 *1; "+
+			"A 301 501 1000 *64; A 365 501 1000 *1; A 366 501 1000 *34; A 400 501 1000 *1; A 401 501 1000 *64; A 465 501 1000 *1; A 466 501 1000 *34; PA 500 501 1000 *1")...)
+	// The segment size is less for all that is new, and the congestion window grows by it.
+	checkTcp(t, c, following(linked, "toobig 104 => cwnd=400", "write 200 => took=200 : A 101 501 1000 *64; A 165 501 1000 *64; A 229 501 1000 *64", "come A 501 293 2000 => cwnd=464 : PA 293 501 1000 *8")...)
+	// What the other end told of its own size is the one that is made less.
+	told := []string{"connect", "come SA 500 101 2000 mss 80"}
+	checkTcp(t, c, following(told, "toobig 120 => cwnd=320", "toobig 119 => cwnd=320", "write 80 => took=80 : A 101 501 1000 *79")...)
+	// A FIN is cut off where the bytes are a whole segment.
+	wide := endWith(func(c *impl.TcpConfig) { c.Mss = 200 })
+	checkTcp(t, wide, "listen", "come S 500 0 2000", "write 100", "shut", "come A 501 101 2000 => flight=101 : FPA 101 501 1000 *100", "toobig 140 => state=5 flight=101 : PA 101 501 1000 *100; FA 201 501 1000")
+	checkTcp(t, wide, "listen", "come S 500 0 2000", "write 100", "shut", "come A 501 101 2000", "toobig 141 => state=5 flight=101 : FPA 101 501 1000 *100")
+	// What is there is not told to be there any more, and what has been lost is sent again, too.
+	sacked := []string{"connect", "come SA 500 101 2000 sackok", "write 400", "come A 501 101 2000 sack 201-501 => cwnd=200 : A 101 501 1000 *100"}
+	checkTcp(t, c, following(sacked, "toobig 139 => cwnd=200 flight=400 : A 101 501 1000 *99; A 200 501 1000 *1; A 201 501 1000 *99; A 300 501 1000 *1")...)
+	// As much as there is room for; resend goes on as it was, and no try is counted.
+	checkTcp(t, c, following(four, "pass 100", "toobig 104"+small, "pass 99 =>", "pass 1 => cwnd=64 : A 101 501 1000 *64", "come A 501 165 2000 => cwnd=128 : A 165 501 1000 *36; A 201 501 1000 *64")...)
+	// In CloseWait, too; and where nothing is sent any more it is only known.
+	checkTcp(t, c, following(linked, "come FA 501 101 2000", "write 100", "toobig 104 => state=7 : A 101 502 999 *64; PA 165 502 999 *36")...)
+	checkTcp(t, c, following(inStates()[impl.TcpFinWait2], "toobig 104 => state=6 cwnd=401")...)
+}
+
+// What is unread can be read behind each way of dying, and then the reason is told.
+func TestTcpDies(t *testing.T) {
+	linked := following(inStates()[impl.TcpEstablished], "come A 501 101 2000 *5", "pass 40")
+	dying := []struct {
+		keep   int64
+		lines  []string
+		unread int
+		read   string
+		write  string
+	}{
+		{0, following(linked, "abort"), 5, "17", "17"},
+		{0, following(linked, "come R 506 0 0"), 5, "14", "14"},
+		{0, following(linked, "write 9", "pass 102200"), 5, "15", "15"},
+		{0, following(linked, "come A 506 101 0", "write 9", "pass 102200"), 5, "15", "15"},
+		{1000, following(linked, "pass 51000"), 5, "15", "15"},
+		{0, following(linked, "come FA 506 101 2000", "abort"), 5, "17", "17"},
+		{0, following(linked, "come FA 506 101 2000", "come R 507 0 0"), 5, "17", "14"},
+		{0, following(linked, "come FA 506 101 2000", "shut", "come A 507 102 2000"), 5, "17", "13"},
+		{0, following(linked, "shut", "come FA 506 102 2000", "pass 60000"), 5, "17", "13"},
+		{0, following(linked, "shut", "come A 506 102 2000", "come FA 506 102 2000", "abort"), 5, "17", "17"},
+		{0, following(linked, "shut", "pass 102200"), 5, "15", "15"},
+		{0, []string{"connect", "write 5", "shut"}, 0, "17", "17"},
+		{0, []string{"listen", "write 5", "shut"}, 0, "17", "17"},
+		{0, []string{"connect", "abort"}, 0, "17", "17"},
+		{0, []string{"listen", "abort"}, 0, "17", "17"},
+		{0, []string{"connect", "come RA 0 101 0"}, 0, "16", "16"},
+		{0, []string{"listen", "come S 500 0 0", "abort"}, 0, "17", "17"},
+		{0, []string{"listen", "come S 500 0 0", "come R 501 0 0"}, 0, "16", "16"},
+		{0, []string{"listen", "come S 500 0 0", "pass 243000"}, 0, "15", "15"},
+		{0, []string{"connect", "pass 243000"}, 0, "15", "15"},
+	}
+	for _, d := range dying {
+		c := endWith(func(c *impl.TcpConfig) { c.Keep = d.keep })
+		dead := fmt.Sprintf("state=0 cwnd=0 flight=0 unsent=0 unread=%d", d.unread)
+		lines := following(d.lines, "write 1 => code="+d.write+" "+dead, "write 0 => code="+d.write, "shut => code=13 "+dead, "abort => code=13 "+dead, "connect => code=13", "listen => code=13", "toobig 100 => code=13 "+dead,
+			"come A 506 101 2000 *5 => "+dead+" : R 101 0 0", "pass 500000 => "+dead)
+		if d.unread > 0 {
+			lines = following(lines, fmt.Sprintf("read %d => data=%d unread=1", d.unread-1, d.unread-1), "read 9 => data=1 unread=0")
+		}
+		checkTcp(t, c, following(lines, "read 1 => code="+d.read+" unread=0", "read 0 => code=1", "write 1 => code="+d.write)...)
+	}
+	// What is held is forgotten, so that nothing of it can be read.
+	held := following(linked, "come A 510 101 2000 *5", "come R 506 0 0 => state=0 unread=5", "read 100 => data=5", "read 100 => code=14")
+	checkTcp(t, plainEnd(), held...)
+	// One that was never told to do anything has no reason.
+	checkTcp(t, plainEnd(), "read 1 => code=13", "write 1 => code=13", "shut => code=13", "abort => code=13", "pass 5 =>", "toobig 100 => code=13", "connect => state=2 : S 100 0 1000 mss 100 scale 0 sackok")
+}
+
+// Places that pass the end of the sequence numbers, both ways.
+func TestTcpPassesTheSeam(t *testing.T) {
+	c := endWith(func(c *impl.TcpConfig) { c.Iss = allSeqs - 1 })
+	checkTcp(t, c, "connect => : S 4294967295 0 1000 mss 100 scale 0 sackok", "come SA 4294967290 0 2000 sackok => state=4 : A 0 4294967291 1000",
+		"write 400 => took=400 : A 0 4294967291 1000 *100; A 100 4294967291 1000 *100; A 200 4294967291 1000 *100; PA 300 4294967291 1000 *100",
+		"come A 4 0 2000 *6 => unread=0 : A 400 4294967291 1000 sack 4-10", "come A 4294967293 100 2000 *3 => cwnd=500 : A 400 4294967291 1000 sack 4294967293-0 sack 4-10",
+		"come A 4294967291 100 2000 sack 200-400 *13 => unread=15 : A 400 10 985", "read 15 => data=15", "come FA 10 400 2000 => state=7 flight=0 : A 400 11 984")
+	near := endWith(func(c *impl.TcpConfig) { c.Iss = allSeqs - 102 })
+	checkTcp(t, near, "listen", "come S 4294967295 0 2000 sackok => : SA 4294967194 0 1000 mss 100 sackok", "come A 0 4294967195 2000 => state=4",
+		"write 400 => took=400 : A 4294967195 0 1000 *100; A 4294967295 0 1000 *100; A 99 0 1000 *100; PA 199 0 1000 *100",
+		"come A 0 4294967195 2000 sack 4294967295-99 sack 99-299 => cwnd=200 flight=400 : A 4294967195 0 1000 *100", "come A 0 4294967295 2000 sack 99-299 => flight=300", "come A 0 299 2000 => flight=0",
+		"shut => : FA 299 0 1000", "come A 0 300 2000 => state=6", "come R 4294967295 0 0 =>", "come R 1 0 0 => : A 300 0 1000", "come R 0 0 0 => state=0")
+	checkTcp(t, near, "connect", "shut => state=0", "come A 5 4294967295 0 => : R 4294967295 0 0", "come S 4294967295 0 0 => : RA 0 0 0", "come SF 4294967294 0 0 *3 => : RA 0 3 0")
+}
+
+// unshiftedScript is a random script of an end with Keep 0 and a window that no shift is asked for.
+func unshiftedScript(chance *rand.Rand, ops int) *tcpScript {
+	c := randomTcpConfig(chance)
+	c.Keep, c.RecvSize = 0, min(c.RecvSize, 65535)
+	s := newTcpScript(chance, c)
+	for range ops {
+		s.add(s.randomOp())
+	}
+	return s
+}
+
+// farSegment is at least 200000 places away from what an end wants, either way, with whatever flags but a FIN.
+func farSegment(chance *rand.Rand, c impl.TcpConfig, wanted int64) impl.Segment {
+	away := 200000 + chance.Int63n(allSeqs-400000)
+	g := randomSegment(chance, pick(chance, 0, 0, 1, chance.Intn(200)))
+	g.SrcPort, g.DstPort, g.Flags = c.RemotePort, c.LocalPort, g.Flags&^segFin
+	g.Seq = (wanted + pick(chance, away, 200000, allSeqs-200000, halfway, halfway-1)) % allSeqs
+	g.Sacks = nil
+	return g
+}
+
+// butSent is what an operation told, but for what was sent.
+func butSent(out impl.TcpOut) impl.TcpOut {
+	out.Sent = nil
+	return out
+}
+
+// P23: segments far from the window change nothing of what the other operations tell, but for what is sent.
+func TestTcpFarSegmentsChangeNothing(t *testing.T) {
+	chance := newChance()
+	far, taken := 0, 0
+	for range 1500 {
+		s := unshiftedScript(chance, 0)
+		var mixed []impl.TcpOp
+		var own []int
+		for range 20 + chance.Intn(80) {
+			own = append(own, len(mixed))
+			op := s.randomOp()
+			mixed = append(mixed, op)
+			s.add(op)
+			for s.m.state >= 3 && often(chance, 60) {
+				mixed = append(mixed, impl.TcpOp{Kind: impl.TcpDoSegment, Segment: farSegment(chance, s.m.c, s.m.otherNumber(s.m.r()))})
+				far++
+			}
+		}
+		outs := runAll(t, running(s.m.c), mixed)
+		for i, out := range outs {
+			if mixed[i].Kind == impl.TcpDoSegment && !slices.Contains(own, i) && out.Code != impl.OK {
+				t.Fatalf("%+v: %s is not taken", s.m.c, shortly(mixed[i]))
+			}
+		}
+		for i, place := range own {
+			taken += len(outs[place].Data)
+			if !sameTcpOut(butSent(outs[place]), butSent(s.want[i])) {
+				t.Fatalf("%+v, operation %d, %s: %s, not %s", s.m.c, i, shortly(s.ops[i]), shortly(outs[place]), shortly(s.want[i]))
+			}
+		}
+	}
+	if far < 10000 || taken < 10000 {
+		t.Errorf("%d segments, %d bytes: too few", far, taken)
+	}
+}
+
+// tcpWatch follows what an end has told the other one.
+type tcpWatch struct {
+	irs, acknowledged, allowed int64
+}
+
+func (w *tcpWatch) check(t *testing.T, c impl.TcpConfig, g impl.Segment) {
+	t.Helper()
+	if int64(len(g.Data)) > c.Mss {
+		t.Fatalf("%+v: %d bytes in a segment", c, len(g.Data))
+	}
+	if g.Flags&segRst != 0 || g.Flags&segAck == 0 {
+		return
+	}
+	place := placeFrom(w.irs, g.Ack)
+	if place < max(w.acknowledged, 1) || place+g.Window < w.allowed {
+		t.Fatalf("%+v: %s behind %+v", c, shortly(g), w)
+	}
+	w.acknowledged, w.allowed = place, place+g.Window
+}
+
+// P24: what has been acknowledged, and what has been allowed, is never taken back; no segment is too long.
+func TestTcpTakesNothingBack(t *testing.T) {
+	chance := newChance()
+	longest := 0
+	for range 2000 {
+		s := unshiftedScript(chance, 20+chance.Intn(100))
+		w := tcpWatch{irs: s.m.irs}
+		for _, out := range runAll(t, running(s.m.c), s.ops) {
+			for _, g := range out.Sent {
+				w.check(t, s.m.c, g)
+				longest += int(oneIf(int64(len(g.Data)) == s.m.c.Mss))
+			}
+		}
+	}
+	if longest < 100 {
+		t.Errorf("only %d segments as long as may be", longest)
+	}
+}
+
+// P25: an end never has more than its bounds; closed it sends nothing by itself.
+func TestTcpKeepsItsBounds(t *testing.T) {
+	chance := newChance()
+	full := map[string]int{}
+	for range 2000 {
+		s := newTcpScript(chance, randomTcpConfig(chance))
+		for range 20 + chance.Intn(100) {
+			s.add(s.randomOp())
+		}
+		c, state := s.m.c, int64(impl.TcpClosed)
+		for i, out := range runAll(t, running(c), s.ops) {
+			if out.Unsent > c.SendSize || out.Unread > c.RecvSize || out.Flight > c.SendSize+2 {
+				t.Fatalf("%+v, operation %d: %s", c, i, shortly(out))
+			}
+			if state == impl.TcpClosed && out.State == state && s.ops[i].Kind != impl.TcpDoSegment && len(out.Sent) > 0 {
+				t.Fatalf("%+v, operation %d: closed it sends %s", c, i, shortly(out.Sent))
+			}
+			state = out.State
+			full["to send"] += int(oneIf(out.Unsent == c.SendSize))
+			full["to read"] += int(oneIf(out.Unread == c.RecvSize))
+			full["on the way"] += int(oneIf(out.Flight > c.SendSize))
+			full["closed"] += int(oneIf(out.State == impl.TcpClosed))
+		}
+	}
+	for _, what := range []string{"to send", "to read", "on the way", "closed"} {
+		if full[what] < 10 {
+			t.Errorf("%s: only %d times as much as may be", what, full[what])
+		}
+	}
+}
+
+// tcpPast is what has happened to an end, and might be a reason.
+type tcpPast struct {
+	reset, closed bool
+	passed        int64
+}
+
+func (p *tcpPast) add(op impl.TcpOp, code int64) {
+	switch {
+	case code != impl.OK:
+	case op.Kind == impl.TcpDoSegment:
+		p.reset = p.reset || op.Segment.Flags&segRst != 0
+		p.closed = p.closed || op.Segment.Flags&segFin != 0
+	case op.Kind == impl.TcpDoShut || op.Kind == impl.TcpDoAbort:
+		p.closed = true
+	case op.Kind == impl.TcpDoPass:
+		p.passed += op.Wait
+	}
+}
+
+// hasReason tells whether a code may be told.
+func (p *tcpPast) hasReason(code, unsent, sendSize int64) bool {
+	switch code {
+	case impl.ErrReset, impl.ErrRefused:
+		return p.reset
+	case impl.ErrFull:
+		return unsent == sendSize
+	case impl.ErrClosed:
+		return p.closed
+	case impl.ErrTimeout:
+		return p.passed >= 1000
+	}
+	return code == impl.OK || code == impl.ErrForm || code == impl.ErrState || code == impl.ErrWait
+}
+
+// P26: no code is told without its reason.
+func TestTcpTellsReasons(t *testing.T) {
+	chance := newChance()
+	told := map[int64]int{}
+	for range 4000 {
+		s := newTcpScript(chance, randomTcpConfig(chance))
+		for range 20 + chance.Intn(100) {
+			s.add(s.randomOp())
+		}
+		var past tcpPast
+		for i, out := range runAll(t, running(s.m.c), s.ops) {
+			if past.add(s.ops[i], out.Code); !past.hasReason(out.Code, out.Unsent, s.m.c.SendSize) {
+				t.Fatalf("%+v, operation %d, %s: %d", s.m.c, i, shortly(s.ops[i]), out.Code)
+			}
+			told[out.Code]++
+		}
+	}
+	for _, code := range []int64{impl.OK, impl.ErrForm, impl.ErrState, impl.ErrReset, impl.ErrRefused, impl.ErrFull, impl.ErrClosed, impl.ErrTimeout, impl.ErrWait} {
+		if told[code] < 10 {
+			t.Errorf("%d is told only %d times", code, told[code])
+		}
+	}
+}
+
+// P55: small writings are gathered while one is on the way, unless it may not be delayed.
+func TestTcpGathersSmallWritings(t *testing.T) {
+	chance := newChance()
+	for range 500 {
+		c := endWith(func(c *impl.TcpConfig) {
+			c.Mss, c.SendSize, c.Iss, c.NoDelay = 164+chance.Int63n(2000), 100+chance.Int63n(1000), chance.Int63n(allSeqs), often(chance, 50)
+		})
+		lines := []string{"connect", fmt.Sprintf("come SA 500 %d 5000", seqAfter(c.Iss, 1))}
+		at, all, count := int64(1), int64(0), 2+chance.Intn(4)
+		for i := range count {
+			n := 1 + chance.Int63n(20)
+			told := fmt.Sprintf("write %d => took=%d", n, n)
+			if i == 0 || c.NoDelay {
+				told += fmt.Sprintf(" : PA %d 501 1000 *%d", seqAfter(c.Iss, 1+all), n)
+			}
+			if i == 0 {
+				at += n
+			}
+			all += n
+			lines = append(lines, told)
+		}
+		end := seqAfter(c.Iss, 1+all)
+		if c.NoDelay {
+			lines = append(lines, fmt.Sprintf("come A 501 %d 5000 => flight=0 unsent=0", end))
+		} else {
+			lines = append(lines, fmt.Sprintf("come A 501 %d 5000 => flight=%d : PA %d 501 1000 *%d", seqAfter(c.Iss, at), all+1-at, seqAfter(c.Iss, at), all+1-at), fmt.Sprintf("come A 501 %d 5000 => flight=0 unsent=0", end))
+		}
+		checkTcp(t, c, lines...)
+	}
+}
+
+func seqAfter(seq, n int64) int64 { return (seq + n) % allSeqs }
+
+// roomyTcpOps are the same operations in memory of their own, with room behind their lists, and two more behind them.
+func roomyTcpOps(ops []impl.TcpOp) []impl.TcpOp {
+	room := append(slices.Clone(ops), impl.TcpOp{Kind: impl.TcpDoListen}, impl.TcpOp{Kind: impl.TcpDoConnect})
+	for i, op := range room {
+		room[i].Data = append(bytes.Clone(op.Data), "room"...)[:len(op.Data)]
+		room[i].Segment.Data = append(bytes.Clone(op.Segment.Data), "behind"...)[:len(op.Segment.Data)]
+		room[i].Segment.Sacks = append(slices.Clone(op.Segment.Sacks), impl.Stretch{From: 1, To: 2})[:len(op.Segment.Sacks)]
+	}
+	return room
+}
+
+func sameTcpOp(a, b impl.TcpOp) bool {
+	stretchRoom := func(list []impl.Stretch) []impl.Stretch { return list[:len(list)+1] }
+	return a.Kind == b.Kind && a.N == b.N && a.Wait == b.Wait && sameSegment(a.Segment, b.Segment) &&
+		bytes.Equal(a.Data[:len(a.Data)+4], b.Data[:len(b.Data)+4]) &&
+		bytes.Equal(a.Segment.Data[:len(a.Segment.Data)+6], b.Segment.Data[:len(b.Segment.Data)+6]) &&
+		slices.Equal(stretchRoom(a.Segment.Sacks), stretchRoom(b.Segment.Sacks))
+}
+
+func cloneTcpOuts(outs []impl.TcpOut) []impl.TcpOut {
+	list := slices.Clone(outs)
+	for i, out := range outs {
+		list[i].Data = bytes.Clone(out.Data)
+		list[i].Sent = slices.Clone(out.Sent)
+		for k, g := range out.Sent {
+			list[i].Sent[k] = cloneSegment(g)
+		}
+	}
+	return list
+}
+
+// checkTcpListsApart writes into each list of an answer, up to its capacity, one behind the other: none of the others
+// may be another one then. told has the same once more.
+func checkTcpListsApart(t *testing.T, outs, told []impl.TcpOut) {
+	t.Helper()
+	for i := range outs {
+		spoil(outs[i].Data, 99)
+		outs[i].Data = told[i].Data
+		for k := range outs[i].Sent {
+			g := &outs[i].Sent[k]
+			spoil(g.Data, 98)
+			g.Data = told[i].Sent[k].Data
+			if !sameTcpOut(outs[i], told[i]) {
+				t.Fatalf("the bytes of segment %d of operation %d are in another list's memory", k, i)
+			}
+			spoil(g.Sacks, impl.Stretch{From: 7, To: 9})
+			g.Sacks = told[i].Sent[k].Sacks
+		}
+		spoil(outs[i].Sent, impl.Segment{Seq: 97})
+		outs[i].Sent = told[i].Sent
+		if !sameTcpOuts(outs, told) {
+			t.Fatalf("a list of operation %d is in another's memory", i)
+		}
+	}
+}
+
+// P51: a run answers the same again and changes none of its operations, the room behind their lists included; what it
+// tells is in nobody else's memory, and a list that is written into, up to its capacity, changes no other one.
+func TestTcpSharesNothing(t *testing.T) {
+	chance := newChance()
+	for range 300 {
+		s := newTcpScript(chance, randomTcpConfig(chance))
+		for range 20 + chance.Intn(60) {
+			s.add(s.randomOp())
+		}
+		room, kept := roomyTcpOps(s.ops), roomyTcpOps(s.ops)
+		first := runAll(t, running(s.m.c), room[:len(s.ops)])
+		told := cloneTcpOuts(first)
+		second := runAll(t, running(s.m.c), room[:len(s.ops)])
+		if !sameTcpOuts(second, told) || !slices.EqualFunc(room, kept, sameTcpOp) {
+			t.Fatal("another answer the second time, or an operation was changed")
+		}
+		if checkTcpListsApart(t, second, told); !slices.EqualFunc(room, kept, sameTcpOp) {
+			t.Fatal("an answer is in an operation's memory")
+		}
+		for _, op := range room {
+			spoil(op.Data, 96)
+			spoil(op.Segment.Data, 95)
+			spoil(op.Segment.Sacks, impl.Stretch{From: 5, To: 6})
+		}
+		if clear(room); !sameTcpOuts(first, told) {
+			t.Fatal("an answer is in an operation's memory")
+		}
+	}
+}
+
+// P51: runs at the same time on the same operations answer the same.
+func TestTcpAtTheSameTime(t *testing.T) {
+	chance := newChance()
+	s := newTcpScript(chance, endWith(func(c *impl.TcpConfig) { c.Keep = 5000 }))
+	for range 300 {
+		s.add(s.randomOp())
+	}
+	done := make(chan bool)
+	for range 8 {
+		go func() {
+			outs, code := impl.RunTcp(s.m.c, s.ops)
+			done <- code == impl.OK && sameTcpOuts(outs, s.want)
+		}()
+	}
+	for range 8 {
+		if !<-done {
+			t.Error("another answer beside others")
+		}
+	}
+}
+
+// hostileOp has numbers as far out as they may be, more often than not in a segment of this stream.
+func hostileOp(chance *rand.Rand, c impl.TcpConfig) impl.TcpOp {
+	numbers := append(edgeNumbers(), 1, 64, 100, 101, 500, 501, 1000)
+	number := func() int64 { return numbers[chance.Intn(len(numbers))] }
+	legal := func(most int64) int64 {
+		if often(chance, 5) {
+			return number()
+		}
+		return pick(chance, 0, 1, most, most-1, most/2, most/2+1, chance.Int63n(most+1))
+	}
+	op := impl.TcpOp{Kind: pick(chance, 7, 7, 7, 7, 7, 7, 1, 2, 3, 4, 5, 6, 8, 9, number()), N: number(), Wait: pick(chance, number(), 0, 1, 1000, 60000), Data: randomBytes(chance, chance.Intn(300))}
+	g := &op.Segment
+	g.SrcPort, g.DstPort = pick(chance, c.RemotePort, c.RemotePort, c.RemotePort, c.RemotePort, legal(65535)), pick(chance, c.LocalPort, c.LocalPort, c.LocalPort, c.LocalPort, legal(65535))
+	g.Seq, g.Ack = pick(chance, 500, 501, 502, legal(allSeqs-1)), pick(chance, 100, 101, 102, 201, legal(allSeqs-1))
+	g.Flags, g.Window = pick(chance, 63, 63, segSyn, segAck, segAck|segSyn, segAck|segFin, 31, legal(63)), legal(65535)
+	g.Mss, g.SackOK = legal(65535), often(chance, 50)
+	if g.HasScale = often(chance, 50); g.HasScale {
+		g.Scale = legal(14)
+	}
+	for range chance.Intn(5) {
+		g.Sacks = append(g.Sacks, impl.Stretch{From: legal(allSeqs - 1), To: legal(allSeqs - 1)})
+	}
+	g.Data = randomBytes(chance, pick(chance, 0, 1, 100, chance.Intn(1000), 65495*int(oneIf(often(chance, 2)))))
+	return op
+}
+
+// P51: whatever the numbers are, a run ends, and answers what the model does.
+func TestTcpHostileOperations(t *testing.T) {
+	chance := newChance()
+	deaths := 0
+	for range 1500 {
+		s := newTcpScript(chance, randomTcpConfig(chance))
+		s.m.c.Iss = pick[int64](chance, 100, 100, s.m.c.Iss)
+		s.m = newModelEnd(s.m.c)
+		s.add(impl.TcpOp{Kind: pick[int64](chance, impl.TcpDoConnect, impl.TcpDoListen)})
+		for range chance.Intn(80) {
+			s.add(hostileOp(chance, s.m.c))
+		}
+		s.check(t)
+		deaths += int(oneIf(s.m.state == 0))
+	}
+	if deaths < 100 {
+		t.Errorf("only %d have died", deaths)
+	}
+}
+
+// P51: as many operations as there may be end, with as many pieces on the way as there may be.
+func TestTcpLongRuns(t *testing.T) {
+	c := endWith(func(c *impl.TcpConfig) { c.Mss, c.SendSize, c.RecvSize, c.NoDelay = 64, mostWritten, mostWritten, true })
+	s := &tcpText{c: c, written: 101}
+	for _, text := range []string{"connect", "come SA 500 101 65535 scale 14 sackok", "write 262144"} {
+		s.ops = append(s.ops, s.operation(t, text))
+	}
+	for i := len(s.ops); i < impl.MaxOps; i++ {
+		text := fmt.Sprintf("come A %d 101 65535 sack %d-%d *9", 502+20*i, 101+64*i, 165+64*i)
+		if i%2 == 0 {
+			text = fmt.Sprintf("come A 501 %d 65535", 101+64*i)
+		}
+		s.ops = append(s.ops, s.operation(t, text))
+	}
+	if outs := runAll(t, running(c), s.ops); outs[impl.MaxOps-1].State != impl.TcpEstablished || outs[impl.MaxOps-2].Flight == 0 {
+		t.Errorf("in the end %s", shortly(outs[impl.MaxOps-1]))
+	}
 }
