@@ -333,20 +333,30 @@ func (m *modelEnd) pass(wait int64) int64 {
 	}
 	end := m.now + wait
 	for {
-		first, at := "", end+1
-		for _, name := range modelTimers {
-			if due, on := m.timers[name]; on && due < at {
-				first, at = name, due
-			}
-		}
-		if first == "" {
+		first, at := m.firstDue()
+		if first == "" || at > end {
 			m.now = end
 			return impl.OK
 		}
-		m.now = at
-		m.off(first)
-		m.goesOff(first)
+		m.goesOffAt(first, at)
 	}
+}
+
+// firstDue is the timer that goes off first, and when; with none on it has no name.
+func (m *modelEnd) firstDue() (string, int64) {
+	first := ""
+	for _, name := range modelTimers {
+		if at, on := m.timers[name]; on && (first == "" || at < m.timers[first]) {
+			first = name
+		}
+	}
+	return first, m.timers[first]
+}
+
+func (m *modelEnd) goesOffAt(name string, at int64) {
+	m.now = at
+	m.off(name)
+	m.goesOff(name)
 }
 
 func (m *modelEnd) tooBig(n int64) int64 {
