@@ -259,6 +259,13 @@ func TestPairAsModel(t *testing.T) {
 	}
 }
 
+func TestPairNumbers(t *testing.T) {
+	got := []int64{impl.PairA, impl.PairB, impl.SideA, impl.SideB, impl.SideWait, impl.MaxFates, impl.MaxSteps}
+	if !slices.Equal(got, []int64{167772161, 167772162, 0, 1, 2, 4000, 20000}) {
+		t.Error(got)
+	}
+}
+
 func checkRunPairCode(t *testing.T, what string, c impl.PairConfig, fates []impl.Fate, ops int, want int64) {
 	t.Helper()
 	outs, code := impl.RunPair(c, fates, make([]impl.PairOp, ops))
