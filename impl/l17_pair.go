@@ -50,15 +50,15 @@ type PairOut struct {
 	StateA, StateB, Sent, Come, Bad int64
 }
 
-// pairCommand is what an end is told to do, and what time it is: an operation, or that its next timer goes off.
-type pairCommand struct {
+// endCommand is what an end is told to do, and what time it is: an operation, or that its next timer goes off.
+type endCommand struct {
 	now     int64
 	goesOff bool
 	op      TcpOp
 }
 
-// pairAnswer is what came of a command, and when the next timer goes off.
-type pairAnswer struct {
+// endAnswer is what came of a command, and when the next timer goes off.
+type endAnswer struct {
 	out   TcpOut
 	dueAt int64
 }
@@ -66,8 +66,8 @@ type pairAnswer struct {
 // pairEnd is an end as the wire knows it: where it is spoken to, and what it has told last.
 type pairEnd struct {
 	addr         int64
-	commands     chan pairCommand
-	answers      chan pairAnswer
+	commands     chan endCommand
+	answers      chan endAnswer
 	state, dueAt int64
 }
 
@@ -141,8 +141,8 @@ func RunPair(c PairConfig, fates []Fate, ops []PairOp) ([]PairOut, int64) {
 func (w *pairWire) begin(side int, addr int64, c TcpConfig) {
 	e := &pairEnd{
 		addr:     addr,
-		commands: make(chan pairCommand),
-		answers:  make(chan pairAnswer),
+		commands: make(chan endCommand),
+		answers:  make(chan endAnswer),
 		state:    TcpClosed,
 		dueAt:    afterAllTimes,
 	}
@@ -163,15 +163,15 @@ func (w *pairWire) close() {
 }
 
 // obeyAll ends when there are no more commands.
-func (e *tcpEnd) obeyAll(commands <-chan pairCommand, answers chan<- pairAnswer) {
+func (e *tcpEnd) obeyAll(commands <-chan endCommand, answers chan<- endAnswer) {
 	for command := range commands {
 		answers <- e.obey(command)
 	}
 }
 
 // obey is told the time, which only the wire counts: it knows what comes ahead of a timer of the same time.
-func (e *tcpEnd) obey(command pairCommand) pairAnswer {
-	var answer pairAnswer
+func (e *tcpEnd) obey(command endCommand) endAnswer {
+	var answer endAnswer
 	e.now = command.now
 	if command.goesOff {
 		e.goOff()
@@ -191,7 +191,7 @@ func (w *pairWire) do(op PairOp) PairOut {
 	case op.Side == SideWait:
 		out.Code = w.wait(op.Wait)
 	case (op.Side == SideA || op.Side == SideB) && isPairKind(op.Op.Kind):
-		told := w.command(op.Side, pairCommand{op: op.Op})
+		told := w.command(op.Side, endCommand{op: op.Op})
 		out.Code, out.Took, out.Data = told.Code, told.Took, told.Data
 	default:
 		out.Code = ErrForm
@@ -208,7 +208,7 @@ func isPairKind(kind int64) bool {
 }
 
 // command tells an end what to do now, and sends what it sends by that.
-func (w *pairWire) command(side int64, command pairCommand) TcpOut {
+func (w *pairWire) command(side int64, command endCommand) TcpOut {
 	e := w.ends[side]
 	command.now = w.now
 	e.commands <- command
@@ -282,9 +282,9 @@ func (w *pairWire) step() {
 	case w.onTheWay.nextAt():
 		w.deliver(w.onTheWay.take())
 	case w.ends[SideA].dueAt:
-		w.command(SideA, pairCommand{goesOff: true})
+		w.command(SideA, endCommand{goesOff: true})
 	case w.ends[SideB].dueAt:
-		w.command(SideB, pairCommand{goesOff: true})
+		w.command(SideB, endCommand{goesOff: true})
 	}
 }
 
@@ -295,7 +295,7 @@ func (w *pairWire) deliver(d delivery) {
 		w.bad++
 		return
 	}
-	w.command(d.to, pairCommand{op: TcpOp{Kind: TcpDoSegment, Segment: s}})
+	w.command(d.to, endCommand{op: TcpOp{Kind: TcpDoSegment, Segment: s}})
 }
 
 func (q *timeQueue[T]) isAhead(i, k int) bool {
