@@ -840,9 +840,15 @@ type modelEntry struct {
 	waiting          []int64
 }
 
+// modelCache does what falls due in passing alone; up to then it has been done.
 type modelCache struct {
-	now  int64
-	list []modelEntry
+	own       impl.ArpConfig
+	now, done int64
+	list      []modelEntry
+}
+
+func (m *modelCache) request(addr int64) impl.Arp {
+	return impl.Arp{Op: impl.ArpRequest, SenderMac: m.own.Mac, Sender: m.own.Addr, Target: addr}
 }
 
 func (m *modelCache) find(addr int64) int {
@@ -862,7 +868,7 @@ func (m *modelCache) send(addr, packet int64, out *impl.ArpOut) {
 	at := m.find(addr)
 	if at < 0 {
 		m.add(modelEntry{addr: addr, begun: m.now, waiting: []int64{packet}}, out)
-		out.Sent = asks(addr)
+		out.Sent = []impl.Arp{m.request(addr)}
 		return
 	}
 	e := m.list[at]
@@ -880,10 +886,10 @@ func (m *modelCache) send(addr, packet int64, out *impl.ArpOut) {
 }
 
 func (m *modelCache) hear(a impl.Arp, out *impl.ArpOut) {
-	if a.Sender == ownAddr || impl.AddrKind(a.Sender) != impl.AddrHost {
+	if a.Sender == m.own.Addr || impl.AddrKind(a.Sender) != impl.AddrHost {
 		return
 	}
-	asked := a.Target == ownAddr && a.Op == impl.ArpRequest
+	asked := a.Target == m.own.Addr && a.Op == impl.ArpRequest
 	if at := m.find(a.Sender); at >= 0 {
 		e := &m.list[at]
 		out.Released = released(a.SenderMac, e.waiting...)
@@ -892,7 +898,9 @@ func (m *modelCache) hear(a impl.Arp, out *impl.ArpOut) {
 		m.add(modelEntry{addr: a.Sender, mac: a.SenderMac, known: true, begun: m.now}, out)
 	}
 	if asked {
-		out.Sent = tells(a.Sender, a.SenderMac)
+		out.Sent = []impl.Arp{{
+			Op: impl.ArpReply, SenderMac: m.own.Mac, Sender: m.own.Addr, TargetMac: a.SenderMac, Target: a.Sender,
+		}}
 	}
 }
 
@@ -916,7 +924,7 @@ func (m *modelCache) pass(wait int64, out *impl.ArpOut) {
 	var events []modelEvent
 	for _, e := range m.list {
 		for _, event := range e.events() {
-			if event.time > m.now && event.time <= m.now+wait {
+			if event.time > m.done && event.time <= m.now+wait {
 				events = append(events, event)
 			}
 		}
@@ -930,10 +938,11 @@ func (m *modelCache) pass(wait int64, out *impl.ArpOut) {
 			m.list = slices.Delete(m.list, at, at+1)
 			out.Dropped = append(out.Dropped, event.waiting...)
 		} else {
-			out.Sent = append(out.Sent, asks(event.addr)...)
+			out.Sent = append(out.Sent, m.request(event.addr))
 		}
 	}
 	m.now += wait
+	m.done = m.now
 }
 
 // do does an operation; what is not valid is known by the program's own bytes and kinds, which other tests ask for.
@@ -941,7 +950,7 @@ func (m *modelCache) do(op impl.ArpOp) impl.ArpOut {
 	var out impl.ArpOut
 	_, arpCode := impl.EncodeArp(op.Arp)
 	switch {
-	case op.Kind == impl.ArpSend && impl.AddrKind(op.Addr) == impl.AddrHost && op.Addr != ownAddr:
+	case op.Kind == impl.ArpSend && impl.AddrKind(op.Addr) == impl.AddrHost && op.Addr != m.own.Addr:
 		m.send(op.Addr, op.Packet, &out)
 	case op.Kind == impl.ArpHear && arpCode == impl.OK:
 		m.hear(op.Arp, &out)
@@ -961,7 +970,7 @@ func TestArpAnswersAsTheModel(t *testing.T) {
 	chance := newChance()
 	for range 1500 {
 		ops := arpScript(chance)
-		var m modelCache
+		m := modelCache{own: ownCache()}
 		for i, out := range runCache(t, ops...) {
 			if want := m.do(ops[i]); !sameArpOut(out, want) {
 				t.Fatalf("operation %d of %d, %+v: %+v, not %+v", i, len(ops), ops[i], out, want)
@@ -981,7 +990,7 @@ func TestArpLongRuns(t *testing.T) {
 		}
 	}
 	for _, ops := range [][]impl.ArpOp{pushing, falling} {
-		var m modelCache
+		m := modelCache{own: ownCache()}
 		for i, out := range runCache(t, ops...) {
 			if want := m.do(ops[i]); !sameArpOut(out, want) {
 				t.Fatalf("operation %d, %+v: %+v, not %+v", i, ops[i], out, want)
